@@ -1,0 +1,1 @@
+"""Framecams: cams with flat feet, and what is so at all turns."""
