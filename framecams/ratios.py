@@ -2,10 +2,11 @@
 
 from math import gcd
 
-from framecams.errors import InvalidFraction
+from framecams.errors import HighBelowLow, InvalidFraction, InvalidNumber
 
 NOUGHT = (0, 1)
 ONE = (1, 1)
+FINEST = 10 ** 12
 
 
 def is_whole(value):
@@ -37,6 +38,30 @@ def check_fraction(fraction):
     """Raise InvalidFraction for what is no fraction."""
     if not is_fraction(fraction):
         raise InvalidFraction(fraction)
+
+
+def is_fraction_above(value):
+    """Whether the value is a fraction above 0, whatever it is."""
+    return is_fraction(value) and value[0] > 0
+
+
+def check_number(number, least, most):
+    """Raise InvalidNumber for what is no whole number from the least one up to the most one."""
+    if not is_whole_within(number, least, most):
+        raise InvalidNumber(number)
+
+
+def check_many(many):
+    """Raise InvalidNumber for what is no fineness."""
+    check_number(many, 1, FINEST)
+
+
+def check_bounds(low, high):
+    """Raise InvalidFraction for what is no fraction, HighBelowLow for a high one below the low one."""
+    check_fraction(low)
+    check_fraction(high)
+    if high[0] * low[1] < low[0] * high[1]:
+        raise HighBelowLow(high)
 
 
 def ratio(n, m):

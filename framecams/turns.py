@@ -6,8 +6,8 @@ below, and 1 less it has, too. The functions here count on it.
 
 from math import lcm
 
-from framecams.errors import InvalidNumber, InvalidTurn, InvalidTurns
-from framecams.ratios import NOUGHT, ONE, check_fraction, is_fraction_pair, is_whole_within, ratio, ratio_negative
+from framecams.errors import InvalidTurn, InvalidTurns
+from framecams.ratios import NOUGHT, ONE, check_fraction, check_number, is_fraction_pair, ratio, ratio_negative
 
 EAST = (ONE, NOUGHT)
 WEST = ((-1, 1), NOUGHT)
@@ -79,8 +79,7 @@ def back(turn):
 def power(turn, number):
     """The turn with so many times its angle."""
     check_turn(turn)
-    if not is_whole_within(number, -MOST_TIMES, MOST_TIMES):
-        raise InvalidNumber(number)
+    check_number(number, -MOST_TIMES, MOST_TIMES)
     step = turn if number >= 0 else back(turn)
     return turn_times(step, abs(number))
 

@@ -76,16 +76,26 @@ def plus(wave, other):
 
 
 def wave_sum(wave, other):
-    """Like plus, also where a pair of noughts stands at the end of one of both."""
+    """Like plus, also for more harmonics, and where a pair of noughts stands at the end of one of both."""
     many = max(len(wave[1]), len(other[1]))
     pairs = [pair_sum(pair_at(wave, number), pair_at(other, number)) for number in range(1, many + 1)]
     return made_wave(ratio_sum(wave[0], other[0]), pairs)
+
+
+def wave_less(wave, other):
+    """The first wave less the second one, also for more harmonics."""
+    return wave_sum(wave, wave_times(other, (-1, 1)))
 
 
 def times(wave, fraction):
     """The wave multiplied by the fraction."""
     check_wave(wave)
     check_fraction(fraction)
+    return wave_times(wave, fraction)
+
+
+def wave_times(wave, fraction):
+    """Like times, also for more harmonics."""
     first, pairs = wave
     grown = [(ratio_product(p, fraction), ratio_product(q, fraction)) for p, q in pairs]
     return made_wave(ratio_product(first, fraction), grown)
@@ -123,6 +133,11 @@ def moved(wave, place):
 def growth(wave):
     """What the wave grows by with the angle."""
     check_wave(wave)
+    return growth_of(wave)
+
+
+def growth_of(wave):
+    """Like growth, also for more harmonics."""
     pairs = [(ratio_times(q, j), ratio_times(p, -j)) for j, (p, q) in enumerate(wave[1], start=1)]
     return made_wave(NOUGHT, pairs)
 

@@ -26,12 +26,55 @@ WAVES = """
 [((0, 1), ()), True, False]
 """
 
+SIGNS = """
+>>> from framecams.signs import always_above, greatest_near, least_near, never_below, row_of, turn_where, zero_near, zeros_of
+>>> swing, lean = (nil, ((one, nil),)), (one, (((-1, 1), nil),))
+>>> [zeros_of(swing), row_of(swing), zero_near(swing, 0, 10), zero_near(swing, 1, 10), zeros_of(lean), row_of(lean), never_below(lean), always_above(lean), zeros_of((nil, ())), row_of((nil, ()))]
+[2, (-1, 1), (1, 0, True), (3, 0, True), 1, (1,), True, False, 'all', (0,)]
+>>> [least_near(oval, 100), greatest_near(oval, 100), least_near(egg, 7), turn_where(oval, -1), turn_where(lean, 0), zeros_of(oval), row_of(oval)]
+[(75, True), (125, True), (6, False), None, ((1, 1), (0, 1)), 0, (1,)]
+"""
+
+CAMS = """
+>>> from framecams.cams import axle_word, breadth_of, ground_near, is_cam, is_smooth, point_at, undercut_turn
+>>> wide, edge = (one, ((nil, nil), (half, nil))), (one, ((nil, nil), ((1, 3), nil)))
+>>> [is_cam(oval), is_smooth(oval), is_cam(wide), is_cam(edge), is_smooth(edge), undercut_turn(oval), ground_near(oval, 100), ground_near(wide, 100), ground_near(edge, 7)]
+[True, True, False, True, False, None, (-25, True), (50, True), (0, True)]
+>>> [point_at(oval, slant), point_at(round_cam, slant), axle_word(oval), axle_word((one, ((one, nil),))), axle_word((one, ((two, nil),))), breadth_of(oval), breadth_of(egg)]
+[((471, 500), (57, 125)), ((3, 5), (4, 5)), 'inside', 'rim', 'outside', ((2, 1), (((0, 1), (0, 1)), ((1, 2), (0, 1)))), ((2, 1), ())]
+"""
+
+FEET = """
+>>> from framecams.feet import breadth_near, gap_turn, gap_word, is_even_broad, is_wide_enough, missed_turn, touch_near
+>>> [is_wide_enough(oval, (-1, 2), half), is_wide_enough(oval, (-1, 2), (1, 3)), missed_turn(oval, (-1, 2), half), touch_near(oval, 10), breadth_near(oval, 10), is_even_broad(oval), is_even_broad(egg)]
+[True, False, None, ((-5, True), (5, True)), ((15, True), (25, True)), False, True]
+>>> [gap_word(oval, one), gap_word(oval, two), gap_word(oval, (5, 2)), gap_word(egg, two), gap_turn(oval, one), gap_turn(oval, (3, 2)) in (((0, 1), (1, 1)), ((0, 1), (-1, 1)))]
+['never', 'sometimes', 'always', 'always', None, True]
+>>> is_wide_enough(oval, one, half)
+raises HighBelowLow(given=(1, 2))
+"""
+
+FRAMES = """
+>>> from framecams.frames import bar, frame_number, knot_number, knots, lets, letting, needless_feet, parting_harmonic, regular, regular_numbers, turns_in
+>>> square, triangle, corner, rhomb = regular(4, one), regular(3, one), (12, (0, 4, 7), one), (30, (2, 7, 17, 22), one)
+>>> [square, knots(square), knots(triangle), knots(corner), knot_number(corner, (0, 4, 7)), letting(square, 8), letting(triangle, 8), lets(corner, 13)]
+[(4, (0, 1, 2, 3), (1, 1)), ((0, 2), (1, 3)), ((0, 1, 2),), ((0, 4, 7),), 12, (1, 3, 5, 7), (1, 2, 4, 5, 7, 8), True]
+>>> [frame_number(square), frame_number(triangle), frame_number(corner), frame_number(rhomb), knots(rhomb), frame_number((6, (0, 1, 3, 4, 5), one)), frame_number((7, (0, 3), one))]
+[2, 3, 12, 2, ((2, 17), (7, 22)), 6, 1]
+>>> [turns_in(egg, square), turns_in(egg, rhomb), turns_in(oval, square), turns_in(oval, triangle), turns_in(oval, (7, (0, 3), two)), bar(oval, square), bar(egg, triangle), bar(times(oval, two), triangle), bar(egg, square)]
+[True, True, False, True, True, ('harmonic', 2, (0, 2)), ('harmonic', 3, (0, 1, 2)), ('distance',), None]
+>>> [regular_numbers(egg), regular_numbers(oval), regular_numbers(round_cam), parting_harmonic(square, regular(2, two)), parting_harmonic(square, triangle), needless_feet(square), needless_feet(triangle), needless_feet((6, (0, 2, 4, 5), one))]
+[(2, 4), (3,), None, None, 2, (0, 1, 2, 3), (), (2,)]
+"""
+
+ALL = TURNS + WAVES + SIGNS + CAMS + FEET + FRAMES
+
 
 class Examples(unittest.TestCase):
     def test_examples_of_the_document(self):
-        names = {}
-        rows = run_examples(TURNS, names) + run_examples(WAVES, names)
-        self.assertEqual(len(rows), 11)
+        rows = run_examples(ALL, {})
+        self.assertEqual(len(rows), ALL.count(">>> "))
+        self.assertEqual(len([wanted for _, _, wanted in rows if wanted is not None]), 16)
         for line, told, wanted in rows:
             with self.subTest(line=line):
                 self.assertEqual(told, wanted)

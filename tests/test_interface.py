@@ -14,6 +14,23 @@ INTERFACE = {
         "turned": "wave, turn", "mirrored": "wave", "moved": "wave, place", "growth": "wave", "bend": "wave",
         "harmonics_of": "wave",
     },
+    "signs": {
+        "never_below": "wave", "always_above": "wave", "turn_where": "wave, sign", "zeros_of": "wave", "row_of": "wave",
+        "zero_near": "wave, index, many", "least_near": "wave, many", "greatest_near": "wave, many",
+    },
+    "cams": {
+        "is_cam": "value", "is_smooth": "value", "undercut_turn": "wave", "ground_near": "wave, many",
+        "point_at": "cam, turn", "axle_word": "cam", "breadth_of": "cam",
+    },
+    "feet": {
+        "is_wide_enough": "cam, low, high", "missed_turn": "cam, low, high", "touch_near": "cam, many",
+        "breadth_near": "cam, many", "is_even_broad": "cam", "gap_word": "cam, gap", "gap_turn": "cam, gap",
+    },
+    "frames": {
+        "is_frame": "value", "regular": "number, distance", "knots": "frame", "knot_number": "frame, knot",
+        "frame_number": "frame", "lets": "frame, harmonic", "letting": "frame, most", "turns_in": "wave, frame",
+        "bar": "wave, frame", "regular_numbers": "wave", "parting_harmonic": "frame, other", "needless_feet": "frame",
+    },
 }
 
 
