@@ -50,7 +50,8 @@ def last_held(wave, other, many):
     parts = wave_product(growth_of(wave), other)
     slope = wave_less(parts, wave_product(wave, growth_of(other)))
     zeros = [] if slope == NOUGHT_WAVE else zeros_in_order(slope)
-    bits = many.bit_length() // 2 + 8
+    # Beside its least a worth grows by the square: so half of the figures do.
+    bits = (many * height_of(wave)).bit_length() // 2 + 8
     telling = place_where(other, 1)
     while telling is not None:
         places = [telling]
@@ -60,6 +61,13 @@ def last_held(wave, other, many):
         telling = place_where(rest_of(wave, other, n, many), -1)
         bits = 2 * bits
     return n
+
+
+def height_of(wave):
+    """A whole number above each number of the wave and its opposite."""
+    first, pairs = wave
+    numbers = [first] + [number for pair in pairs for number in pair]
+    return 1 + max([abs(n) // m for n, m in numbers])
 
 
 def least_guess(wave, other, many, places):

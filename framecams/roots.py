@@ -1,11 +1,12 @@
 """The roots of a polynomial over whole numbers, each of which is a root just once."""
 
-from math import gcd
+from math import gcd, isqrt
 
 from framecams.polynomials import scaled_worth, shifted, sign_changes, sign_of, slope_of
 from framecams.ratios import ratio
 
 FIRST_MODULUS = 37
+LEAST_PARTS = 4
 
 
 def roots_within(row):
@@ -68,19 +69,30 @@ def sign_behind(row, n, m):
 
 
 def root_near(row, place, many):
-    """The greatest whole number n such that n / many is not above the root, for one of its triples."""
+    """The greatest whole number n such that n / many is not above the root, for one of its triples.
+
+    Near to the root the polynomial is almost straight, so a straight line between both ends
+    tells where it is; each time that this is right the next stretch is cut into more parts.
+    """
     low, high, size = place
     below = low * many // size
     if low == high:
         return below
     before = sign_of(scaled_worth(row, low, size))
     above = high * many // size + 1
+    ends = [abs(scaled_worth(row, below, many)), abs(scaled_worth(row, above, many))]
+    parts = LEAST_PARTS
     while above - below > 1:
-        middle = (below + above) // 2
-        if sign_of(scaled_worth(row, middle, many)) in (0, before):
-            below = middle
-        else:
-            above = middle
+        step = max((above - below) // parts, 1)
+        guess = below + (above - below) * ends[0] // (ends[0] + ends[1] + 1)
+        for at in (guess - step, guess + step, (below + above) // 2):
+            if below < at < above:
+                worth = scaled_worth(row, at, many)
+                if sign_of(worth) in (0, before):
+                    below, ends[0] = at, abs(worth)
+                else:
+                    above, ends[1] = at, abs(worth)
+        parts = parts * parts if above - below <= 2 * step else max(isqrt(parts), LEAST_PARTS)
     return below
 
 

@@ -127,7 +127,8 @@ POINT, AXLE = made(0, (3, "-1/2")), NOUGHT
 CRANK = (ONE, ((HALF, NIL),))
 # The oval turned by the half of a quarter: what it has least and greatest, it has at turns without fractions.
 SKEW_OVAL = made(1, (0, 0), (0, "1/4"))
-MANY_CAM = made(20, (1, -1), ("1/2", "1/3"), (0, "1/4"), ("1/5", 0), (0, 0), ("1/7", "-1/8"), (0, "1/9"), ("-1/10", "1/11"))
+MANY_CAM = made(20, (1, -1), ("1/2", "1/3"), (0, "1/4"), ("1/5", 0), (0, 0), ("1/7", "-1/8"), (0, "1/9"),
+                ("-1/10", "1/11"))
 CAMS = (
     ROUND_CAM, OVAL, EGG, EDGE, FINE_EDGE, POINT, AXLE, CRANK, SKEW_OVAL, CUBE, MANY_CAM, (TWO, ((TWO, NIL),)),
     made(1, (2, 0)), made(1, (0, -1)), made(5, (1, 1), (0, 0), ("1/3", "1/4"), (0, 0), ("-1/30", 0)),

@@ -5,9 +5,9 @@ from fractions import Fraction
 
 from framecams.cams import axle_word, breadth_of, ground_near, is_cam, is_smooth, point_at, undercut_turn
 from framecams.turns import is_turn, joined
-from tests.shapes import AXLE, CAMS, CRANK, CUBE, EDGE, FINE_EDGE, FINEST, LONG, MANY_CAM, NOUGHT, NO_CAMS, POINT, SKEW_OVAL
-from tests.shapes import SPECIAL, TINY, TOUCHING, WIDE
-from tests.shapes import any_cams, any_waves, bent, grown, less, made, opposite, raised, unbent
+from tests.shapes import AXLE, CAMS, CRANK, CUBE, EDGE, FINE_EDGE, FINEST, LONG, MANY_CAM, NOUGHT, NO_CAMS, POINT
+from tests.shapes import SKEW_OVAL, SPECIAL, TINY, TOUCHING, WIDE, any_cams, any_waves, bent, grown, less, made
+from tests.shapes import opposite, raised, unbent
 from tests.sturm import Zeros
 from tests.values import BIG, EAST, EGG, HALF, MANY_TURNS, NIL, NORTH, NOT_WAVES, ONE, OVAL, ROUND_CAM, TURNS, TWO, WEST
 from tests.values import number_of, pair_of, reckoned
@@ -81,9 +81,10 @@ class Undercut(unittest.TestCase):
 
 class Ground(unittest.TestCase):
     def test_by_hand(self):
-        rows = ((ROUND_CAM, 3, (-3, True)), (OVAL, 100, (-25, True)), (OVAL, 3, (-1, False)), (WIDE, FINEST, (FINEST // 2, True)),
-                (EDGE, FINEST, (0, True)), (FINE_EDGE, FINEST, (0, True)), (POINT, 1, (0, True)), (NOUGHT, 7, (0, True)),
-                (raised(FINE_EDGE, (-2, 7)), 7, (2, True)), (raised(FINE_EDGE, (-2, 7)), 1, (0, False)), (EGG, 10, (-2, True)),
+        rows = ((ROUND_CAM, 3, (-3, True)), (OVAL, 100, (-25, True)), (OVAL, 3, (-1, False)),
+                (WIDE, FINEST, (FINEST // 2, True)), (EDGE, FINEST, (0, True)), (FINE_EDGE, FINEST, (0, True)),
+                (POINT, 1, (0, True)), (NOUGHT, 7, (0, True)), (raised(FINE_EDGE, (-2, 7)), 7, (2, True)),
+                (raised(FINE_EDGE, (-2, 7)), 1, (0, False)), (EGG, 10, (-2, True)),
                 (raised(FINE_EDGE, (2, 7)), 1, (-1, False)), (made(0, (0, 0), ("1/3", "1/3")), 10, (14, False)),
                 (raised(EDGE, less(TINY)), 10, (0, False)), (raised(EDGE, TINY), 10, (-1, False)))
         for wave, many, wanted in rows:
@@ -107,8 +108,9 @@ class Ground(unittest.TestCase):
 
 class Points(unittest.TestCase):
     def test_by_hand(self):
-        rows = ((EGG, EAST, ((11, 10), NIL)), (EGG, WEST, ((-9, 10), NIL)), (OVAL, NORTH, (NIL, (3, 4))), (CRANK, WEST, ((-1, 2), NIL)),
-                (POINT, NORTH, ((3, 1), (-1, 2))), (SKEW_OVAL, EAST, (ONE, HALF)), (SKEW_OVAL, NORTH, (HALF, ONE)), (AXLE, WEST, (NIL, NIL)))
+        rows = ((EGG, EAST, ((11, 10), NIL)), (EGG, WEST, ((-9, 10), NIL)), (OVAL, NORTH, (NIL, (3, 4))),
+                (CRANK, WEST, ((-1, 2), NIL)), (POINT, NORTH, ((3, 1), (-1, 2))), (SKEW_OVAL, EAST, (ONE, HALF)),
+                (SKEW_OVAL, NORTH, (HALF, ONE)), (AXLE, WEST, (NIL, NIL)))
         for cam, turn, wanted in rows:
             self.assertEqual(point_at(cam, turn), wanted)
             self.assertEqual(point_at(turn=turn, cam=cam), wanted)
@@ -135,15 +137,17 @@ class Points(unittest.TestCase):
 
 class Axle(unittest.TestCase):
     def test_by_hand(self):
-        rows = ((ROUND_CAM, "inside"), (OVAL, "inside"), (EGG, "inside"), (CRANK, "inside"), (AXLE, "rim"), (POINT, "outside"),
-                (made(1, (1, 0)), "rim"), (made(1, (-1, 0)), "rim"), (made(1, (0, -1)), "rim"), (made(5, (3, 4)), "rim"),
-                (made(5, (4, 4)), "outside"), (made(5, (4, "29/10")), "inside"), (made("3/2", (1, 1)), "inside"), (made("7/5", (1, 1)), "outside"))
+        rows = ((ROUND_CAM, "inside"), (OVAL, "inside"), (EGG, "inside"), (CRANK, "inside"), (AXLE, "rim"),
+                (POINT, "outside"), (made(1, (1, 0)), "rim"), (made(1, (-1, 0)), "rim"), (made(1, (0, -1)), "rim"),
+                (made(5, (3, 4)), "rim"), (made(5, (4, 4)), "outside"), (made(5, (4, "29/10")), "inside"),
+                (made("3/2", (1, 1)), "inside"), (made("7/5", (1, 1)), "outside"))
         for cam, word in rows:
             self.assertEqual(axle_word(cam), word)
             self.assertEqual(axle_word(cam=cam), word)
 
     def test_rim_met_at_a_turn_without_fractions(self):
-        self.assertEqual([axle_word(CUBE), axle_word(raised(CUBE, TINY)), axle_word(raised(CUBE, less(TINY)))], ["rim", "inside", "outside"])
+        self.assertEqual([axle_word(CUBE), axle_word(raised(CUBE, TINY)), axle_word(raised(CUBE, less(TINY)))],
+                         ["rim", "inside", "outside"])
 
     def test_against_the_chains(self):
         for cam in CAMS + tuple(any_cams(5, 40)):
@@ -152,9 +156,10 @@ class Axle(unittest.TestCase):
 
 class Breadth(unittest.TestCase):
     def test_by_hand(self):
-        rows = ((OVAL, ((2, 1), ((NIL, NIL), (HALF, NIL)))), (EGG, (TWO, ())), (ROUND_CAM, (TWO, ())), (POINT, (NIL, ())),
-                (SKEW_OVAL, made(2, (0, 0), (0, "1/2"))), (MANY_CAM, made(40, (0, 0), (1, "2/3"), (0, 0), ("2/5", 0), (0, 0),
-                                                                         ("2/7", "-1/4"), (0, 0), ("-1/5", "2/11"))))
+        rows = ((OVAL, ((2, 1), ((NIL, NIL), (HALF, NIL)))), (EGG, (TWO, ())), (ROUND_CAM, (TWO, ())),
+                (POINT, (NIL, ())), (SKEW_OVAL, made(2, (0, 0), (0, "1/2"))),
+                (MANY_CAM, made(40, (0, 0), (1, "2/3"), (0, 0), ("2/5", 0), (0, 0), ("2/7", "-1/4"), (0, 0),
+                                ("-1/5", "2/11"))))
         for cam, wanted in rows:
             self.assertEqual(breadth_of(cam), wanted)
             self.assertEqual(breadth_of(cam=cam), wanted)

@@ -67,14 +67,45 @@ FRAMES = """
 [(2, 4), (3,), None, None, 2, (0, 1, 2, 3), (), (2,)]
 """
 
-ALL = TURNS + WAVES + SIGNS + CAMS + FEET + FRAMES
+LOTS = """
+>>> from framecams.lots import good_numbers, least_shared, most_feet, shares, widest_frame
+>>> [shares((square, triangle), 5), shares((square, triangle), 3), least_shared((square, triangle)), least_shared((square,)), least_shared((triangle, corner))]
+[True, False, 5, 3, 11]
+>>> [good_numbers((3,)), good_numbers((2,)), good_numbers((5, 7)), most_feet(12, (5, 7)), most_feet(5, (5, 7)), most_feet(30, (3,)), most_feet(2, (2,)), widest_frame(2, (2,), one)]
+[(1, 2, 4), (1, 3), (1, 2, 3, 4, 6), 6, 2, 4, 1, None]
+"""
+
+PAIRS = """
+>>> from framecams.pairs import goes_without_play, is_mate_cam, mate, pair_width, play_wave, playing_harmonics, width_near
+>>> arms = (one, one)
+>>> [playing_harmonics(oval, oval, arms, east), goes_without_play(oval, oval, arms, north), pair_width(oval, oval, arms, north), pair_width(oval, oval, arms, east), play_wave(oval, round_cam, (one, two), slant)]
+[(2,), True, (2, 1), None, ((3, 1), (((0, 1), (0, 1)), ((1, 4), (0, 1))))]
+>>> [mate(oval, arms, east, two), is_mate_cam(oval, arms, east, two), is_mate_cam(oval, arms, east, one), width_near(oval, arms, 4), width_near(oval, arms, 3)]
+[((1, 1), (((0, 1), (0, 1)), ((-1, 4), (0, 1)))), True, False, 7, 6]
+"""
+
+SPEEDS = """
+>>> from framecams.speeds import bearing_wave, is_kept, leaving_turn, square_near
+>>> coil = (one, one, half)
+>>> [bearing_wave(oval, coil, two), is_kept(oval, coil, (7, 4)), is_kept(oval, coil, two), leaving_turn(oval, coil, (7, 4)), square_near(oval, coil, 100), square_near(oval, coil, 3), square_near(round_cam, coil, 3)]
+[((3, 2), (((0, 1), (0, 1)), ((-7, 4), (0, 1)))), True, False, None, (175, True), (5, False), None]
+>>> square_near(oval, (one, one, (-2, 1)), 3)
+raises NotPressed()
+>>> from framecams.speeds import presses_at_most, pressing_near, turning_at, turning_near
+>>> [pressing_near(oval, coil, (1, 4), 10), presses_at_most(oval, coil, (1, 4), (6, 1)), presses_at_most(oval, coil, (1, 4), (5, 1)), pressing_near(round_cam, coil, two, 4)]
+[(60, True), True, False, (6, True)]
+>>> [turning_at(oval, coil, (1, 4), slant), turning_near(oval, coil, (1, 4), 8), turning_near(round_cam, coil, two, 3)]
+[(-18, 25), ((-6, True), (6, True)), ((0, True), (0, True))]
+"""
+
+ALL = TURNS + WAVES + SIGNS + CAMS + FEET + FRAMES + LOTS + PAIRS + SPEEDS
 
 
 class Examples(unittest.TestCase):
     def test_examples_of_the_document(self):
         rows = run_examples(ALL, {})
         self.assertEqual(len(rows), ALL.count(">>> "))
-        self.assertEqual(len([wanted for _, _, wanted in rows if wanted is not None]), 16)
+        self.assertEqual(len([wanted for _, _, wanted in rows if wanted is not None]), 24)
         for line, told, wanted in rows:
             with self.subTest(line=line):
                 self.assertEqual(told, wanted)

@@ -45,8 +45,9 @@ class Feet(unittest.TestCase):
 
     def test_bounds_reached_at_turns_without_fractions(self):
         # The growth of the oval is - 1 / 2 sin 2 t.
-        for low, high, wanted in (((-1, 2), HALF, True), (less(MORE), MORE, True), ((-1, 2), LESS, False), (less(LESS), HALF, False),
-                                  (less(LESS), LESS, False), ((-7, 1), (9, 1), True), (NIL, ONE, False), ((-1, 1), NIL, False), (ONE, TWO, False)):
+        for low, high, wanted in (((-1, 2), HALF, True), (less(MORE), MORE, True), ((-1, 2), LESS, False),
+                                  (less(LESS), HALF, False), (less(LESS), LESS, False), ((-7, 1), (9, 1), True),
+                                  (NIL, ONE, False), ((-1, 1), NIL, False), (ONE, TWO, False)):
             self.assert_wide(OVAL, low, high, wanted)
 
     def test_bounds_reached_at_turns_with_fractions(self):
@@ -74,9 +75,11 @@ class Feet(unittest.TestCase):
                 self.assert_wide(cam, low, high, wanted)
 
     def test_touch_near(self):
-        rows = ((OVAL, 10, ((-5, True), (5, True))), (OVAL, 3, ((-2, False), (1, False))), (EGG, 10, ((-3, True), (3, True))),
-                (EGG, FINEST, ((-3 * FINEST // 10, True), (3 * FINEST // 10, True))), (ROUND_CAM, 5, ((0, True), (0, True))),
-                (made(2, (1, 1)), 10, ((-15, False), (14, False))), (AXLE, 1, ((0, True), (0, True))))
+        rows = ((OVAL, 10, ((-5, True), (5, True))), (OVAL, 3, ((-2, False), (1, False))),
+                (EGG, 10, ((-3, True), (3, True))),
+                (EGG, FINEST, ((-3 * FINEST // 10, True), (3 * FINEST // 10, True))),
+                (ROUND_CAM, 5, ((0, True), (0, True))), (made(2, (1, 1)), 10, ((-15, False), (14, False))),
+                (AXLE, 1, ((0, True), (0, True))))
         for cam, many, wanted in rows:
             self.assertEqual(touch_near(cam, many), wanted)
             self.assertEqual(touch_near(many=many, cam=cam), wanted)
@@ -86,7 +89,8 @@ class Feet(unittest.TestCase):
             for many in (1, 12, FINEST):
                 (low, low_just), (high, high_just) = touch_near(cam, many)
                 high += not high_just
-                for a, b, wanted in ((low, high, True), (low + 1, max(low + 1, high), False), (min(low, high - 1), high - 1, False)):
+                for a, b, wanted in ((low, high, True), (low + 1, max(low + 1, high), False),
+                                     (min(low, high - 1), high - 1, False)):
                     self.assertIs(is_wide_enough(cam, pair_of(Fraction(a, many)), pair_of(Fraction(b, many))), wanted)
                 for n, is_just in ((low, low_just), (high, high_just)):
                     left = Zeros(raised(grown(cam), pair_of(Fraction(-n, many))))
@@ -111,8 +115,9 @@ class Gaps(unittest.TestCase):
 
     def test_at_the_least_and_the_greatest_breadth(self):
         for cam in (OVAL, SKEW_OVAL):
-            for gap, word in (((3, 2), "sometimes"), (shifted((3, 2), TINY), "sometimes"), (shifted((3, 2), less(TINY)), "never"),
-                              ((5, 2), "always"), (shifted((5, 2), TINY), "always"), (shifted((5, 2), less(TINY)), "sometimes"),
+            for gap, word in (((3, 2), "sometimes"), (shifted((3, 2), TINY), "sometimes"),
+                              (shifted((3, 2), less(TINY)), "never"), ((5, 2), "always"),
+                              (shifted((5, 2), TINY), "always"), (shifted((5, 2), less(TINY)), "sometimes"),
                               (TINY, "never"), ((10 ** 20, 1), "always")):
                 self.assert_gap(cam, gap, word)
 
@@ -121,7 +126,8 @@ class Gaps(unittest.TestCase):
         self.assertIsNone(self.assert_gap(SKEW_OVAL, (3, 2), "sometimes"))
         self.assertIsNotNone(self.assert_gap(SKEW_OVAL, shifted((3, 2), (1, 10 ** 60)), "sometimes"))
         # 11 / 9 + 4 / 9 cos 2 t - 1 / 15 cos 4 t is least at the begins of two quarters.
-        self.assertIn(self.assert_gap(FINE_EDGE, pair_of(Fraction(11, 9) - Fraction(4, 9) - Fraction(1, 15)), "sometimes"), (NORTH, SOUTH))
+        self.assertIn(self.assert_gap(FINE_EDGE, pair_of(Fraction(11, 9) - Fraction(4, 9) - Fraction(1, 15)),
+                                      "sometimes"), (NORTH, SOUTH))
 
     def test_without_even_harmonics(self):
         for cam, wide in ((EGG, TWO), (ROUND_CAM, TWO), (CRANK, TWO), (made(9, (3, 4), (0, 0), (1, "1/2")), (18, 1))):
@@ -153,7 +159,8 @@ class Gaps(unittest.TestCase):
                 self.assert_gap(cam, gap, word)
 
     def test_breadth_near(self):
-        rows = ((OVAL, 10, ((15, True), (25, True))), (OVAL, 1, ((1, False), (2, False))), (SKEW_OVAL, 10, ((15, True), (25, True))),
+        rows = ((OVAL, 10, ((15, True), (25, True))), (OVAL, 1, ((1, False), (2, False))),
+                (SKEW_OVAL, 10, ((15, True), (25, True))),
                 (EDGE, FINEST, ((4 * FINEST // 3, False), (8 * FINEST // 3, False))), (EDGE, 3, ((4, True), (8, True))))
         for cam, many, wanted in rows:
             self.assertEqual(breadth_near(cam, many), wanted)

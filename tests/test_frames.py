@@ -5,8 +5,8 @@ import math
 import unittest
 from random import Random
 
-from framecams.frames import bar, frame_number, is_frame, knot_number, knots, lets, letting, needless_feet, parting_harmonic
-from framecams.frames import regular, regular_numbers, turns_in
+from framecams.frames import bar, frame_number, is_frame, knot_number, knots, lets, letting, needless_feet
+from framecams.frames import parting_harmonic, regular, regular_numbers, turns_in
 from tests.shapes import FINEST, MANY_CAM, NOUGHT, POINT, TINY, less, made, opposite, raised
 from tests.values import BIG, EGG, HALF, Hostile, NIL, NOT_FRACTIONS, NO_VALUES, NUMBERS, ONE, OVAL, ROUND_CAM, TWO
 
@@ -15,20 +15,23 @@ CORNER, RHOMB = (12, (0, 4, 7), ONE), (30, (2, 7, 17, 22), ONE)
 # Two feet that are not opposite, and that are; marks with a common divisor; three feet, two of them opposite.
 OPEN, FACING, EVEN, HALVED = (7, (0, 3), TWO), (2, (0, 1), ONE), (60, (0, 20, 40), ONE), (60, (1, 7, 31), HALF)
 FRAMES = (
-    SQUARE, TRIANGLE, CORNER, RHOMB, OPEN, FACING, EVEN, HALVED, (4, (0, 2), ONE), (4, (1, 2), ONE), (60, (0, 59), ONE), (60, (0, 30), TINY),
-    (60, (0, 1, 2, 3, 4, 5, 6, 7), (BIG, 3)), (60, (3, 9, 21, 33, 39, 45, 51, 57), ONE), (59, (0, 1, 2), ONE), (59, (5, 9), ONE),
-    (6, (0, 1, 3, 4, 5), ONE), (6, (0, 2, 4, 5), ONE), (8, (0, 2, 4, 6), ONE), (8, (0, 1, 4, 5), ONE), (8, (0, 1, 4, 6), ONE),
-    (8, (0, 1, 2, 3, 4, 5, 6, 7), ONE), (9, (0, 3, 6), ONE), (9, (1, 3, 6), ONE), (12, (0, 3, 6, 9), ONE), (12, (0, 1, 6, 9), ONE),
-    (24, (0, 6, 12, 15), ONE), (5, (0, 1), ONE), (3, (1, 2), ONE), (2, (0, 1), HALF),
+    SQUARE, TRIANGLE, CORNER, RHOMB, OPEN, FACING, EVEN, HALVED, (4, (0, 2), ONE), (4, (1, 2), ONE), (60, (0, 59), ONE),
+    (60, (0, 30), TINY), (60, (0, 1, 2, 3, 4, 5, 6, 7), (BIG, 3)), (60, (3, 9, 21, 33, 39, 45, 51, 57), ONE),
+    (59, (0, 1, 2), ONE), (59, (5, 9), ONE), (6, (0, 1, 3, 4, 5), ONE), (6, (0, 2, 4, 5), ONE), (8, (0, 2, 4, 6), ONE),
+    (8, (0, 1, 4, 5), ONE), (8, (0, 1, 4, 6), ONE), (8, (0, 1, 2, 3, 4, 5, 6, 7), ONE), (9, (0, 3, 6), ONE),
+    (9, (1, 3, 6), ONE), (12, (0, 3, 6, 9), ONE), (12, (0, 1, 6, 9), ONE), (24, (0, 6, 12, 15), ONE), (5, (0, 1), ONE),
+    (3, (1, 2), ONE), (2, (0, 1), HALF),
 )
 NOT_FRAMES = NO_VALUES + NUMBERS + (
-    ONE, OVAL, (), (4,), (4, (0, 1)), (4, (0, 1), ONE, ONE), [4, (0, 1), ONE], (4, [0, 1], ONE), (4, (0, 1), [1, 1]), (1, (0, 1), ONE),
-    (61, (0, 1), ONE), (0, (0, 1), ONE), (-4, (0, 1), ONE), (True, (0, 1), ONE), ("4", (0, 1), ONE), (None, (0, 1), ONE), (BIG, (0, 1), ONE),
-    (4, (), ONE), (4, (0,), ONE), (4, 0, ONE), (4, None, ONE), (4, "01", ONE), (4, {0: 1, 1: 1}, ONE), (60, tuple(range(9)), ONE),
-    (60, tuple(range(60)), ONE), (4, (0, 4), ONE), (4, (-1, 0), ONE), (4, (0, 0), ONE), (4, (1, 0), ONE), (4, (0, 2, 1), ONE), (4, (0, 2, 2), ONE),
-    (4, (0, True), ONE), (4, (False, 1), ONE), (4, (0, None), ONE), (4, (0, "1"), ONE), (4, (0, (1,)), ONE), (4, (0, BIG), ONE),
-    (4, (0, 1), NIL), (4, (0, 1), (-1, 2)), (4, (0, 1), 1), (4, (0, 1), (2, 2)), (4, (0, 1), (True, 1)), (4, (0, 1), (1, 0)), (4, (0, 1), None),
-    (Hostile(), (0, 1), ONE), (4, Hostile(), ONE), (4, (Hostile(), 1), ONE), (4, (0, Hostile()), ONE), (4, (0, 1), Hostile()), (4, (0, 1), (1, Hostile())),
+    ONE, OVAL, (), (4,), (4, (0, 1)), (4, (0, 1), ONE, ONE), [4, (0, 1), ONE], (4, [0, 1], ONE), (4, (0, 1), [1, 1]),
+    (1, (0, 1), ONE), (61, (0, 1), ONE), (0, (0, 1), ONE), (-4, (0, 1), ONE), (True, (0, 1), ONE), ("4", (0, 1), ONE),
+    (None, (0, 1), ONE), (BIG, (0, 1), ONE), (4, (), ONE), (4, (0,), ONE), (4, 0, ONE), (4, None, ONE), (4, "01", ONE),
+    (4, {0: 1, 1: 1}, ONE), (60, tuple(range(9)), ONE), (60, tuple(range(60)), ONE), (4, (0, 4), ONE),
+    (4, (-1, 0), ONE), (4, (0, 0), ONE), (4, (1, 0), ONE), (4, (0, 2, 1), ONE), (4, (0, 2, 2), ONE),
+    (4, (0, True), ONE), (4, (False, 1), ONE), (4, (0, None), ONE), (4, (0, "1"), ONE), (4, (0, (1,)), ONE),
+    (4, (0, BIG), ONE), (4, (0, 1), NIL), (4, (0, 1), (-1, 2)), (4, (0, 1), 1), (4, (0, 1), (2, 2)),
+    (4, (0, 1), (True, 1)), (4, (0, 1), (1, 0)), (4, (0, 1), None), (Hostile(), (0, 1), ONE), (4, Hostile(), ONE),
+    (4, (Hostile(), 1), ONE), (4, (0, Hostile()), ONE), (4, (0, 1), Hostile()), (4, (0, 1), (1, Hostile())),
 )
 HARMONICS = (1, 2, 3, 4, 5, 7, 11, 13, 29, 31, 59, 60, 61, 10 ** 6, FINEST - 1, FINEST)
 
@@ -91,7 +94,9 @@ def is_touched(frame, j):
         for (a, u), (b, v) in itertools.combinations([(angle, told[part]) for angle, told in zip(angles, wanted)], 2):
             if abs(math.sin(a - b)) < 1e-9 and abs(u - math.cos(a - b) * v) > 1e-9:
                 return False
-        for (a, u), (b, v), (c, w) in itertools.combinations([(angle, told[part]) for angle, told in zip(angles, wanted)], 3):
+        for (a, u), (b, v), (c,
+                             w) in itertools.combinations([(angle, told[part]) for angle, told in zip(angles, wanted)],
+                                                          3):
             if abs(u * math.sin(c - b) + v * math.sin(a - c) + w * math.sin(b - a)) > 1e-9:
                 return False
     return True
@@ -124,9 +129,11 @@ class IsFrame(unittest.TestCase):
 
 class Knots(unittest.TestCase):
     def test_by_hand(self):
-        rows = ((OPEN, ()), (FACING, ((0, 1),)), (SQUARE, ((0, 2), (1, 3))), (TRIANGLE, ((0, 1, 2),)), (HALVED, ((1, 31),)),
-                (RHOMB, ((2, 17), (7, 22))), ((6, (0, 2, 4, 5), ONE), ((0, 2, 4), (0, 4, 5), (2, 5))),
-                ((8, (0, 1, 4, 6), ONE), ((0, 1, 6), (0, 4), (1, 4, 6))), ((5, (0, 1, 3), ONE), ((0, 1, 3),)), ((4, (1, 2), ONE), ()))
+        rows = ((OPEN, ()), (FACING, ((0, 1),)), (SQUARE, ((0, 2), (1, 3))), (TRIANGLE, ((0, 1, 2),)),
+                (HALVED, ((1, 31),)), (RHOMB, ((2, 17), (7, 22))),
+                ((6, (0, 2, 4, 5), ONE), ((0, 2, 4), (0, 4, 5), (2, 5))),
+                ((8, (0, 1, 4, 6), ONE), ((0, 1, 6), (0, 4), (1, 4, 6))), ((5, (0, 1, 3), ONE), ((0, 1, 3),)),
+                ((4, (1, 2), ONE), ()))
         for frame, wanted in rows:
             self.assertEqual(knots(frame), wanted)
             self.assertEqual(knots(frame=frame), wanted)
@@ -141,17 +148,19 @@ class Knots(unittest.TestCase):
                 self.assertEqual(number == 2, len(knot) == 2)
 
     def test_numbers_by_hand(self):
-        rows = ((CORNER, (0, 4, 7), 12), (EVEN, (0, 20, 40), 3), (HALVED, (1, 31), 2), ((24, (0, 6, 12, 15), ONE), (0, 6, 15), 8),
-                ((60, (3, 9, 21, 33, 39, 45, 51, 57), ONE), (3, 9, 21), 10), ((60, (3, 9, 21, 33, 39, 45, 51, 57), ONE), (9, 39), 2))
+        rows = ((CORNER, (0, 4, 7), 12), (EVEN, (0, 20, 40), 3), (HALVED, (1, 31), 2),
+                ((24, (0, 6, 12, 15), ONE), (0, 6, 15), 8), ((60, (3, 9, 21, 33, 39, 45, 51, 57), ONE), (3, 9, 21), 10),
+                ((60, (3, 9, 21, 33, 39, 45, 51, 57), ONE), (9, 39), 2))
         for frame, knot, wanted in rows:
             self.assertEqual(knot_number(frame, knot), wanted)
 
 
 class Numbers(unittest.TestCase):
     def test_by_hand(self):
-        rows = ((OPEN, 1), ((4, (1, 2), ONE), 1), (FACING, 2), ((60, (0, 30), TINY), 2), (SQUARE, 2), (RHOMB, 2), (HALVED, 2), (EVEN, 3),
-                (TRIANGLE, 3), (CORNER, 12), ((8, (0, 1, 4, 6), ONE), 8), ((12, (0, 3, 6, 9), ONE), 2), ((12, (0, 1, 6, 9), ONE), 12),
-                ((8, (0, 2, 4, 6), ONE), 2), ((24, (0, 6, 12, 15), ONE), 8), ((6, (0, 2, 4, 5), ONE), 6), ((59, (0, 1, 2), ONE), 59))
+        rows = ((OPEN, 1), ((4, (1, 2), ONE), 1), (FACING, 2), ((60, (0, 30), TINY), 2), (SQUARE, 2), (RHOMB, 2),
+                (HALVED, 2), (EVEN, 3), (TRIANGLE, 3), (CORNER, 12), ((8, (0, 1, 4, 6), ONE), 8),
+                ((12, (0, 3, 6, 9), ONE), 2), ((12, (0, 1, 6, 9), ONE), 12), ((8, (0, 2, 4, 6), ONE), 2),
+                ((24, (0, 6, 12, 15), ONE), 8), ((6, (0, 2, 4, 5), ONE), 6), ((59, (0, 1, 2), ONE), 59))
         for frame, wanted in rows:
             self.assertEqual(frame_number(frame), wanted)
             self.assertEqual(frame_number(frame=frame), wanted)
@@ -173,14 +182,16 @@ class Numbers(unittest.TestCase):
                 self.assertIs(lets(frame, j), is_touched(frame, j), (frame, j))
 
     def test_lets_by_hand(self):
-        rows = ((OPEN, FINEST, True), (FACING, FINEST, False), (FACING, FINEST - 1, True), (EVEN, 3 * 10 ** 11, False), (EVEN, FINEST, True),
-                (CORNER, 1, True), (CORNER, 12, False), (CORNER, 11, True), (CORNER, 25, True), (TRIANGLE, FINEST - 1, False))
+        rows = ((OPEN, FINEST, True), (FACING, FINEST, False), (FACING, FINEST - 1, True), (EVEN, 3 * 10 ** 11, False),
+                (EVEN, FINEST, True), (CORNER, 1, True), (CORNER, 12, False), (CORNER, 11, True), (CORNER, 25, True),
+                (TRIANGLE, FINEST - 1, False))
         for frame, j, wanted in rows:
             self.assertIs(lets(frame, j), wanted)
             self.assertIs(lets(harmonic=j, frame=frame), wanted)
 
     def test_letting_by_hand(self):
-        rows = ((OPEN, 4, (1, 2, 3, 4)), (CORNER, 1, (1,)), (CORNER, 10, (1,)), (CORNER, 11, (1, 11)), (CORNER, 25, (1, 11, 13, 23, 25)))
+        rows = ((OPEN, 4, (1, 2, 3, 4)), (CORNER, 1, (1,)), (CORNER, 10, (1,)), (CORNER, 11, (1, 11)),
+                (CORNER, 25, (1, 11, 13, 23, 25)))
         for frame, most, wanted in rows:
             self.assertEqual(letting(frame, most), wanted)
             self.assertEqual(letting(most=most, frame=frame), wanted)
@@ -195,12 +206,17 @@ class Bars(unittest.TestCase):
         self.assertIs(turns_in(frame=frame, wave=wave), wanted is None)
 
     def test_by_hand(self):
-        rows = (((OVAL, OPEN), None), ((opposite(OVAL), OPEN), None), ((NOUGHT, OPEN), None), ((NOUGHT, FACING), ("distance",)),
-                ((OVAL, FACING), ("harmonic", 2, (0, 1))), ((raised(OVAL, TINY), TRIANGLE), ("distance",)), ((raised(OVAL, less(TINY)), TRIANGLE), ("distance",)),
-                ((opposite(ROUND_CAM), SQUARE), ("distance",)), ((EGG, (8, (0, 1, 4, 6), ONE)), ("harmonic", 3, (0, 1, 6))),
-                ((OVAL, (8, (0, 1, 4, 6), ONE)), ("harmonic", 2, (0, 1, 6))), ((OVAL, (6, (0, 2, 3, 4), ONE)), ("harmonic", 2, (0, 3))),
-                ((EGG, (6, (0, 2, 4, 5), ONE)), ("harmonic", 3, (0, 2, 4))), ((OVAL, (6, (0, 2, 4, 5), ONE)), ("harmonic", 2, (0, 4, 5))),
-                ((made(1, (5, 7)), (60, tuple(range(8)), ONE)), None), ((made(1, *[(0, 0)] * 6, (1, 0)), (8, (0, 1, 2, 3, 5, 7), ONE)), None))
+        rows = (((OVAL, OPEN), None), ((opposite(OVAL), OPEN), None), ((NOUGHT, OPEN), None),
+                ((NOUGHT, FACING), ("distance",)), ((OVAL, FACING), ("harmonic", 2, (0, 1))),
+                ((raised(OVAL, TINY), TRIANGLE), ("distance",)), ((raised(OVAL, less(TINY)), TRIANGLE), ("distance",)),
+                ((opposite(ROUND_CAM), SQUARE), ("distance",)),
+                ((EGG, (8, (0, 1, 4, 6), ONE)), ("harmonic", 3, (0, 1, 6))),
+                ((OVAL, (8, (0, 1, 4, 6), ONE)), ("harmonic", 2, (0, 1, 6))),
+                ((OVAL, (6, (0, 2, 3, 4), ONE)), ("harmonic", 2, (0, 3))),
+                ((EGG, (6, (0, 2, 4, 5), ONE)), ("harmonic", 3, (0, 2, 4))),
+                ((OVAL, (6, (0, 2, 4, 5), ONE)), ("harmonic", 2, (0, 4, 5))),
+                ((made(1, (5, 7)), (60, tuple(range(8)), ONE)), None),
+                ((made(1, *[(0, 0)] * 6, (1, 0)), (8, (0, 1, 2, 3, 5, 7), ONE)), None))
         for (wave, frame), wanted in rows:
             self.assert_bar(wave, frame, wanted)
 
@@ -210,7 +226,8 @@ class Bars(unittest.TestCase):
             for _ in range(4):
                 had = [j for j in range(1, 9) if source.random() < 0.4]
                 wave = (frame[2], made(0, *[(int(j in had), 0) for j in range(1, 9)])[1])
-                bars = [("harmonic", j, knot) for j in had for knot in told_knots(frame) if not knot_lets(frame[0], knot, j)]
+                bars = [("harmonic", j, knot) for j in had for knot in told_knots(frame)
+                        if not knot_lets(frame[0], knot, j)]
                 self.assert_bar(wave, frame, min(bars, default=None))
                 wanted = ("distance",) if told_knots(frame) else None
                 self.assert_bar(raised(wave, TINY), frame, wanted)
@@ -231,10 +248,12 @@ class Bars(unittest.TestCase):
 
 class RegularNumbers(unittest.TestCase):
     def test_by_hand(self):
-        rows = ((ROUND_CAM, None), (POINT, None), (NOUGHT, None), (made(-4, (1, 0)), None), (EGG, (2, 4)), (OVAL, (3,)), (opposite(EGG), (2, 4)),
-                (made(1, (1, 1), (0, 0), (0, 0), (0, 0), (0, 3)), (2, 3, 4, 6)), (made(1, (0, 0), (1, 0), (1, 0)), ()), (MANY_CAM, ()),
-                (made(0, *[(0, 0)] * 7, (0, 1)), (3, 7, 9)), (made(0, *[(0, 0)] * 4, (1, 0), (0, 0), (0, 1)), (2, 3, 4, 6)),
-                (made(0, *[(0, 0)] * 3, (1, 0), (1, 0)), (3,)), (made(0, (0, 0), (1, 0), (0, 0), (1, 0), (0, 0), (0, 0), (1, 0)), (3,)))
+        rows = ((ROUND_CAM, None), (POINT, None), (NOUGHT, None), (made(-4, (1, 0)), None), (EGG, (2, 4)), (OVAL, (3,)),
+                (opposite(EGG), (2, 4)), (made(1, (1, 1), (0, 0), (0, 0), (0, 0), (0, 3)), (2, 3, 4, 6)),
+                (made(1, (0, 0), (1, 0), (1, 0)), ()), (MANY_CAM, ()), (made(0, *[(0, 0)] * 7, (0, 1)), (3, 7, 9)),
+                (made(0, *[(0, 0)] * 4, (1, 0), (0, 0), (0, 1)), (2, 3, 4, 6)),
+                (made(0, *[(0, 0)] * 3, (1, 0), (1, 0)), (3,)),
+                (made(0, (0, 0), (1, 0), (0, 0), (1, 0), (0, 0), (0, 0), (1, 0)), (3,)))
         for wave, wanted in rows:
             self.assertEqual(regular_numbers(wave), wanted)
             self.assertEqual(regular_numbers(wave=wave), wanted)
@@ -263,16 +282,18 @@ class Parting(unittest.TestCase):
                 self.assertEqual(letting(frame, 600), letting(other, 600))
 
     def test_by_hand(self):
-        rows = ((SQUARE, FACING, None), (SQUARE, TRIANGLE, 2), (OPEN, FACING, 2), (OPEN, TRIANGLE, 3), (CORNER, (60, tuple(range(8)), ONE), 11),
-                ((59, (0, 1, 2), ONE), (60, (0, 1, 2), ONE), 58), ((59, (0, 1, 2), ONE), (58, (0, 1, 2), ONE), 57), (OPEN, (60, (0, 59), ONE), None))
+        rows = ((SQUARE, FACING, None), (SQUARE, TRIANGLE, 2), (OPEN, FACING, 2), (OPEN, TRIANGLE, 3),
+                (CORNER, (60, tuple(range(8)), ONE), 11), ((59, (0, 1, 2), ONE), (60, (0, 1, 2), ONE), 58),
+                ((59, (0, 1, 2), ONE), (58, (0, 1, 2), ONE), 57), (OPEN, (60, (0, 59), ONE), None))
         for frame, other, wanted in rows:
             self.assertEqual(parting_harmonic(frame, other), wanted)
 
 
 class Needless(unittest.TestCase):
     def test_by_hand(self):
-        rows = ((OPEN, ()), (FACING, ()), ((60, (0, 30), TINY), ()), (SQUARE, (0, 1, 2, 3)), (TRIANGLE, ()), (HALVED, (7,)), (RHOMB, (2, 7, 17, 22)),
-                ((6, (0, 2, 4, 5), ONE), (2,)), ((5, (0, 1, 2, 3, 4), ONE), (0, 1, 2, 3, 4)), ((8, (0, 2, 4, 5), ONE), (0, 4)),
+        rows = ((OPEN, ()), (FACING, ()), ((60, (0, 30), TINY), ()), (SQUARE, (0, 1, 2, 3)), (TRIANGLE, ()),
+                (HALVED, (7,)), (RHOMB, (2, 7, 17, 22)), ((6, (0, 2, 4, 5), ONE), (2,)),
+                ((5, (0, 1, 2, 3, 4), ONE), (0, 1, 2, 3, 4)), ((8, (0, 2, 4, 5), ONE), (0, 4)),
                 ((12, (0, 4, 7, 8), ONE), (0, 4, 8)), ((9, (0, 3, 4, 6), ONE), (0, 3, 6)))
         for frame, wanted in rows:
             self.assertEqual(needless_feet(frame), wanted)

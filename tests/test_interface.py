@@ -31,6 +31,21 @@ INTERFACE = {
         "frame_number": "frame", "lets": "frame, harmonic", "letting": "frame, most", "turns_in": "wave, frame",
         "bar": "wave, frame", "regular_numbers": "wave", "parting_harmonic": "frame, other", "needless_feet": "frame",
     },
+    "lots": {
+        "shares": "frames, harmonic", "least_shared": "frames", "good_numbers": "harmonics",
+        "most_feet": "number, harmonics", "widest_frame": "number, harmonics, distance",
+    },
+    "pairs": {
+        "play_wave": "cam, other, arms, turn", "goes_without_play": "cam, other, arms, turn",
+        "playing_harmonics": "cam, other, arms, turn", "pair_width": "cam, other, arms, turn",
+        "mate": "cam, arms, turn, width", "is_mate_cam": "cam, arms, turn, width", "width_near": "cam, arms, many",
+    },
+    "speeds": {
+        "bearing_wave": "cam, spring, square", "is_kept": "cam, spring, square",
+        "leaving_turn": "cam, spring, square", "square_near": "cam, spring, many",
+        "presses_at_most": "cam, spring, square, level", "pressing_near": "cam, spring, square, many",
+        "turning_at": "cam, spring, square, turn", "turning_near": "cam, spring, square, many",
+    },
 }
 
 

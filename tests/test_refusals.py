@@ -4,9 +4,9 @@ import importlib
 import itertools
 import unittest
 
-from framecams import errors, feet, frames, signs, turns, waves
+from framecams import errors, feet, frames, signs, speeds, turns, waves
 from tests.kinds import LET, OWN, kinds_of, right_ones
-from tests.shapes import NOUGHT, SWING, TINY, TWICE, less
+from tests.shapes import EDGE, NOUGHT, SWING, TINY, TWICE, less
 from tests.test_frames import FACING, OPEN, SQUARE
 from tests.test_interface import INTERFACE
 from tests.values import BLANK, EAST, HALF, LEAN, NIL, NOT_FRACTIONS, NOT_TURNS, NO_VALUES, ONE, OVAL, ROUND_CAM, SLANT
@@ -94,7 +94,8 @@ class Bounds(Refused):
 
     def test_high_below_low(self):
         for function in (feet.is_wide_enough, feet.missed_turn):
-            for low, high in ((ONE, HALF), (TINY, NIL), (NIL, less(TINY)), ((-1, 2), (-2, 3)), ((2, 3), (1, 2)), ((10 ** 399, 1), (10 ** 399 - 1, 1))):
+            for low, high in ((ONE, HALF), (TINY, NIL), (NIL, less(TINY)), ((-1, 2), (-2, 3)), ((2, 3), (1, 2)),
+                              ((10 ** 399, 1), (10 ** 399 - 1, 1))):
                 self.assert_both_ways(function, {"cam": OVAL, "low": low, "high": high}, errors.HighBelowLow, high)
                 function(OVAL, high, low)
                 function(OVAL, low, low)
@@ -114,12 +115,30 @@ class Bounds(Refused):
                 self.assert_both_ways(signs.zero_near, named, errors.InvalidIndex, index)
             for index in range(many):
                 self.assertEqual(len(signs.zero_near(wave, index, 1)), 3)
-                self.assert_both_ways(signs.zero_near, {"wave": wave, "index": index, "many": 0}, errors.InvalidNumber, 0)
+                self.assert_both_ways(signs.zero_near, {"wave": wave, "index": index, "many": 0}, errors.InvalidNumber,
+                                      0)
 
     def test_knots_of_other_frames(self):
-        for frame, knot in ((OPEN, (0, 3)), (FACING, (1, 0)), (FACING, (0, 1, 1)), (SQUARE, (0, 1)), (SQUARE, (0, 1, 2)), (SQUARE, (2, 0))):
+        for frame, knot in ((OPEN, (0, 3)), (FACING, (1, 0)), (FACING, (0, 1, 1)), (SQUARE, (0, 1)),
+                            (SQUARE, (0, 1, 2)), (SQUARE, (2, 0))):
             self.assert_both_ways(frames.knot_number, {"frame": frame, "knot": knot}, errors.InvalidKnot, knot)
         self.assertEqual(frames.knot_number(FACING, (0, 1)), 2)
+
+
+class Last(Refused):
+    def test_behind_all_others(self):
+        unpressed, gone = (ONE, ONE, (-2, 1)), (ONE, ONE, (-9, 1))
+        rows = ((speeds.square_near, {"cam": OVAL, "spring": unpressed, "many": 3}, errors.NotPressed),
+                (speeds.pressing_near, {"cam": EDGE, "spring": gone, "square": ONE, "many": 3}, errors.NotSmooth),
+                (speeds.pressing_near, {"cam": OVAL, "spring": gone, "square": ONE, "many": 3}, errors.NotKept),
+                (speeds.presses_at_most, {"cam": EDGE, "spring": gone, "square": ONE, "level": ONE}, errors.NotSmooth),
+                (speeds.presses_at_most, {"cam": OVAL, "spring": gone, "square": ONE, "level": ONE}, errors.NotKept))
+        for function, named, error in rows:
+            self.assert_both_ways(function, named, error, None, None)
+            kinds = kinds_of("speeds", function.__name__, ", ".join(named))
+            for name, kind in kinds.items():
+                for wrong, kept in kind.wrong[::4]:
+                    self.assert_both_ways(function, {**named, name: wrong}, kind.error, kept, kind.kept)
 
 
 class TurnsRefused(Refused):

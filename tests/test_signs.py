@@ -4,10 +4,11 @@ import unittest
 from fractions import Fraction
 from math import isqrt
 
-from framecams.signs import always_above, greatest_near, least_near, never_below, row_of, turn_where, zero_near, zeros_of
+from framecams.signs import always_above, greatest_near, least_near, never_below, row_of, turn_where, zero_near
+from framecams.signs import zeros_of
 from framecams.turns import is_turn
-from tests.shapes import AT_EAST, AT_WEST, CORNER, CUBE, EIGHT, FAST, FAST_BOW, FINEST, LONG, MIXED, NOUGHT, SHORT, SHORTER
-from tests.shapes import SLANTED, SPECIAL, SQUARED, SWING, THIRD, TINY, TOUCHING, TWICE, TWICE_BOW, BOW
+from tests.shapes import AT_EAST, AT_WEST, CORNER, CUBE, EIGHT, FAST, FAST_BOW, FINEST, LONG, MIXED, NOUGHT, SHORT
+from tests.shapes import SHORTER, SLANTED, SPECIAL, SQUARED, SWING, THIRD, TINY, TOUCHING, TWICE, TWICE_BOW, BOW
 from tests.shapes import any_waves, less, made, multiplied, opposite, raised
 from tests.sturm import Zeros
 from tests.values import EAST, EGG, LEAN, NIL, NORTH, ONE, OVAL, ROUND_CAM, SLANT, SOUTH, WEST, reckoned
@@ -145,7 +146,8 @@ class TurnWhere(unittest.TestCase):
     def test_zeros_told_by_fractions(self):
         rows = ((SWING, (NORTH, SOUTH)), (BOW, (EAST, WEST)), (AT_EAST, (EAST,)), (AT_WEST, (WEST,)),
                 (SLANTED, (SLANT, ((-3, 5), (4, 5)))), (CORNER, (WEST, SOUTH)), (multiplied(THIRD, AT_WEST), (WEST,)),
-                (multiplied(THIRD, multiplied(AT_EAST, AT_EAST)), (EAST,)), (SQUARED, (EAST,)), (FAST_BOW, (EAST, NORTH, WEST, SOUTH)),
+                (multiplied(THIRD, multiplied(AT_EAST, AT_EAST)), (EAST,)), (SQUARED, (EAST,)),
+                (FAST_BOW, (EAST, NORTH, WEST, SOUTH)),
                 (multiplied(SLANTED, multiplied(TWICE, CUBE)), (SLANT, ((-3, 5), (4, 5)))))
         for wave, wanted in rows:
             self.assertIn(turn_where(wave, 0), wanted)
@@ -160,7 +162,8 @@ class TurnWhere(unittest.TestCase):
             self.assertEqual(turn_where(wave, 0), ((c.numerator, c.denominator), (s.numerator, s.denominator)))
 
     def test_no_zeros_told_by_fractions(self):
-        for wave in (ROUND_CAM, OVAL, EGG, LEAN, TWICE, FAST, THIRD, TOUCHING, CUBE, SHORT, SHORTER, raised(SWING, (1, 3))):
+        for wave in (ROUND_CAM, OVAL, EGG, LEAN, TWICE, FAST, THIRD, TOUCHING, CUBE, SHORT, SHORTER,
+                     raised(SWING, (1, 3))):
             self.assertIsNone(turn_where(wave, 0))
 
     def test_the_nought_wave(self):
@@ -170,7 +173,7 @@ class TurnWhere(unittest.TestCase):
 
 class Bounds(unittest.TestCase):
     def assert_bounds(self, wave, many):
-        """n / many is not above the least worth, (n + 1) / many is, by the signs of what is left; likewise the greatest."""
+        """n / many is not above the least worth, (n + 1) / many is, by the signs of what is left; and so on."""
         n, is_just = least_near(wave, many)
         here, above = [Zeros(raised(wave, less(Fraction(k, many).as_integer_ratio()))) for k in (n, n + 1)]
         self.assertNotIn(-1, here.signs())
@@ -190,12 +193,13 @@ class Bounds(unittest.TestCase):
                 self.assert_bounds(wave, 6)
 
     def test_by_hand(self):
-        rows = ((LEAN, 6, (1, True), (11, True)), (LEAN, 10, (1, False), (18, False)), (LEAN, 1, (0, False), (1, False)),
-                (made(0, (3, 4)), 1, (-5, True), (5, True)), (made(0, (1, 1)), 10, (-15, False), (14, False)),
-                (made(0, (1, 1)), 1, (-2, False), (1, False)), (FAST, 7, (-7, True), (7, True)),
-                (OVAL, FINEST, (750 * 10 ** 9, True), (1250 * 10 ** 9, True)), (ROUND_CAM, 3, (3, True), (3, True)),
-                (made("-1/3"), 10, (-4, False), (-4, False)), (made("-1/3"), 3, (-1, True), (-1, True)),
-                (NOUGHT, 5, (0, True), (0, True)), (raised(SWING, (-7, 2)), 1, (-5, False), (-3, False)))
+        rows = ((LEAN, 6, (1, True), (11, True)), (LEAN, 10, (1, False), (18, False)),
+                (LEAN, 1, (0, False), (1, False)), (made(0, (3, 4)), 1, (-5, True), (5, True)),
+                (made(0, (1, 1)), 10, (-15, False), (14, False)), (made(0, (1, 1)), 1, (-2, False), (1, False)),
+                (FAST, 7, (-7, True), (7, True)), (OVAL, FINEST, (750 * 10 ** 9, True), (1250 * 10 ** 9, True)),
+                (ROUND_CAM, 3, (3, True), (3, True)), (made("-1/3"), 10, (-4, False), (-4, False)),
+                (made("-1/3"), 3, (-1, True), (-1, True)), (NOUGHT, 5, (0, True), (0, True)),
+                (raised(SWING, (-7, 2)), 1, (-5, False), (-3, False)))
         for wave, many, least, greatest in rows:
             self.assertEqual([least_near(wave, many), greatest_near(wave, many)], [least, greatest])
             self.assertEqual([least_near(many=many, wave=wave), greatest_near(many=many, wave=wave)], [least, greatest])

@@ -3,19 +3,21 @@
 import time
 import unittest
 
-from framecams import cams, feet, frames, signs
+from framecams import cams, feet, frames, lots, pairs, signs, speeds
 from tests.shapes import EIGHT, FAST, FINEST, FINE_EDGE, LONG, MANY_CAM, MIXED, SHORTER, SQUARED, TINY
 from tests.shapes import any_waves, less, made, multiplied, opposite, raised
 from tests.test_frames import CORNER
 from tests.values import BIG, FULL, HALF, ONE, SLANT, TWO
 
 SECONDS = 1.0
+MILLION = 10 ** 6
 FINER = (1, 10 ** 60)
 ROUGH = [multiplied(wave, wave) for wave in any_waves(11, 2)] + any_waves(12, 4, 8)
 BESIDE = [raised(wave, step) for wave in (SQUARED, MIXED, ROUGH[0]) for step in (TINY, less(TINY), FINER, less(FINER))]
 WAVES = [EIGHT, FAST, FULL, LONG, MIXED, SQUARED, opposite(SQUARED), SHORTER] + BESIDE + ROUGH
 FIGURES = made(3, *[(f"{BIG + k}/{BIG - k}", f"{k}/{BIG + k}") for k in range(1, 9)])
-CAMS = [MANY_CAM, raised(EIGHT, (10 ** 3, 1)), raised(LONG, (10 ** 9, 1)), raised(FINE_EDGE, TINY), raised(FIGURES, (10 ** 4, 1))]
+CAMS = [MANY_CAM, raised(EIGHT, (10 ** 3, 1)), raised(LONG, (10 ** 9, 1)), raised(FINE_EDGE, TINY),
+        raised(FIGURES, (10 ** 4, 1))]
 FRAMES = [(60, tuple(range(8)), HALF), (60, (0, 1, 2, 3, 30, 31, 32, 33), ONE), (59, (1, 2, 3, 5, 8, 13, 21, 34), TWO)]
 
 
@@ -28,7 +30,8 @@ class InGoodTime(unittest.TestCase):
 
     def test_signs(self):
         for wave in WAVES + [FIGURES]:
-            for function in (signs.never_below, signs.always_above, signs.row_of, cams.is_cam, cams.is_smooth, cams.undercut_turn):
+            for function in (signs.never_below, signs.always_above, signs.row_of, cams.is_cam, cams.is_smooth,
+                             cams.undercut_turn):
                 self.assert_soon(function, wave)
             for sign in (-1, 0, 1):
                 self.assert_soon(signs.turn_where, wave, sign)
@@ -62,6 +65,41 @@ class InGoodTime(unittest.TestCase):
                 self.assert_soon(frames.bar, wave, frame)
                 self.assert_soon(frames.turns_in, wave, frame)
                 self.assert_soon(frames.regular_numbers, wave)
+
+    def test_lots(self):
+        great = [(n, (0, 1, 2), ONE) for n in (60, 59, 58, 57, 55, 53, 49, 48, 47, 43)]
+        for lot in (tuple(great[:6]), tuple(great[1:7]), tuple(great[4:]), tuple(great[1:3] + great[6:]),
+                    tuple(FRAMES) * 2):
+            self.assert_soon(lots.least_shared, lot)
+            self.assert_soon(lots.shares, lot, FINEST)
+        for harmonics in ((MILLION,), tuple(range(MILLION - 5, MILLION + 1)), (720719, 720721),
+                          (499999, 500001, 999999)):
+            self.assert_soon(lots.good_numbers, harmonics)
+            for number in (2, 59, 60):
+                self.assert_soon(lots.most_feet, number, harmonics)
+                self.assert_soon(lots.widest_frame, number, harmonics, HALF)
+
+    def test_pairs(self):
+        for cam, arms in [(cam, (HALF, TWO)) for cam in CAMS] + [(cam, ((BIG, 3), (1, BIG))) for cam in CAMS[:4]]:
+            with self.subTest(cam=cam[0], arms=arms):
+                for function in (pairs.play_wave, pairs.goes_without_play, pairs.playing_harmonics, pairs.pair_width):
+                    self.assert_soon(function, cam, CAMS[0], arms, SLANT)
+                self.assert_soon(pairs.mate, cam, arms, SLANT, TWO)
+                self.assert_soon(pairs.is_mate_cam, cam, arms, SLANT, (BIG, 1))
+                self.assert_soon(pairs.width_near, cam, arms, FINEST)
+
+    def test_speeds(self):
+        for cam in CAMS[:4] + [made(99, *[(0, 0)] * 7, (1, "1/3"))]:
+            for spring in ((ONE, ONE, HALF), ((1, 3), (10 ** 6, 7), (FINEST, 11))):
+                for square in ((0, 1), (1, 70), (FINEST + 1, FINEST)):
+                    self.assert_soon(speeds.bearing_wave, cam, spring, square)
+                    self.assert_soon(speeds.leaving_turn, cam, spring, square)
+                    self.assert_soon(speeds.turning_at, cam, spring, square, SLANT)
+                    self.assert_soon(speeds.turning_near, cam, spring, square, FINEST)
+                    if self.assert_soon(speeds.is_kept, cam, spring, square):
+                        self.assert_soon(speeds.pressing_near, cam, spring, square, FINEST)
+                        self.assert_soon(speeds.presses_at_most, cam, spring, square, (FINEST + 1, FINEST))
+                self.assert_soon(speeds.square_near, cam, spring, FINEST)
 
 
 if __name__ == "__main__":
