@@ -6,7 +6,8 @@ from math import isqrt
 
 from framecams.signs import always_above, greatest_near, least_near, never_below, row_of, turn_where, zero_near
 from framecams.signs import zeros_of
-from framecams.turns import is_turn
+from framecams.turns import back, is_turn, joined
+from framecams.waves import turned
 from tests.shapes import AT_EAST, AT_WEST, CORNER, CUBE, EIGHT, FAST, FAST_BOW, FINEST, LONG, MIXED, NOUGHT, SHORT
 from tests.shapes import SHORTER, SLANTED, SPECIAL, SQUARED, SWING, THIRD, TINY, TOUCHING, TWICE, TWICE_BOW, BOW
 from tests.shapes import any_waves, less, made, multiplied, opposite, raised
@@ -142,6 +143,16 @@ class TurnWhere(unittest.TestCase):
             self.assertEqual(sign_at(opposite(wave), turn_where(opposite(wave), -1)), -1)
         finer = raised(opposite(TOUCHING), (1, 10 ** 100))
         self.assertEqual(sign_at(finer, turn_where(finer, 1)), 1)
+
+    def test_on_a_short_stretch_within_each_quarter(self):
+        for begin in (EAST, NORTH, WEST, SOUTH):
+            for turn in (joined(begin, SLANT), joined(begin, ((12, 13), (5, 13)))):
+                around = turned(AT_EAST, back(turn))
+                for steps in (opposite(around), multiplied(opposite(around), multiplied(CUBE, CUBE))):
+                    wave = raised(steps, TINY)
+                    self.assertEqual(sign_at(wave, turn_where(wave, 1)), 1)
+                    self.assertEqual(sign_at(opposite(wave), turn_where(opposite(wave), -1)), -1)
+                    self.assertEqual(turn_where(steps, 0), turn)
 
     def test_zeros_told_by_fractions(self):
         rows = ((SWING, (NORTH, SOUTH)), (BOW, (EAST, WEST)), (AT_EAST, (EAST,)), (AT_WEST, (WEST,)),

@@ -1,5 +1,6 @@
 """Speeds: bearing waves, kept feet, greatest squares, pressing, turning forces."""
 
+import itertools
 import unittest
 from fractions import Fraction
 from math import isqrt
@@ -8,7 +9,9 @@ from framecams.errors import NotKept, NotPressed, NotSmooth
 from framecams.speeds import bearing_wave, is_kept, leaving_turn, presses_at_most, pressing_near, square_near
 from framecams.speeds import turning_at, turning_near
 from framecams.turns import is_turn
-from tests.shapes import AXLE, CAMS, CRANK, CUBE, EDGE, EIGHT, FINEST, FINE_EDGE, MANY_CAM, POINT, SKEW_OVAL, TINY
+from framecams.wholes import wave_product
+from tests.shapes import AXLE, CAMS, CRANK, CUBE, EDGE, EIGHT, FINEST, FINE_EDGE, MANY_CAM, POINT, SKEW_OVAL
+from tests.shapes import SPECIAL, TINY
 from tests.shapes import any_cams, bent, grown, less, made, multiplied, numbers_of, opposite, raised
 from tests.sturm import Zeros
 from tests.values import BIG, EGG, HALF, MANY_TURNS, NIL, ONE, OVAL, ROUND_CAM, SLANT, TURNS, TWO, number_of, pair_of
@@ -19,6 +22,8 @@ SPRINGS = (COIL, PLAIN, (HALF, (3, 2), (2, 1)), ((3, 1), TINY, (5, 1)), (TINY, (
 SQUARES = (NIL, (1, 7), ONE, (22, 7))
 # 5 + 3 cos t + 4 sin t: 0 at one turn.
 RESTING = made(5, (3, 4))
+# (1 - cos t) times itself: at (1, 0) the lift and what it grows by, once, twice and three times, are 0.
+FLAT = multiplied(made(1, (-1, 0)), made(1, (-1, 0)))
 SOME = CAMS + tuple(any_cams(31, 12, 3))
 
 
@@ -119,6 +124,9 @@ class Squares(unittest.TestCase):
                 (RESTING, ((3, 1), ONE, NIL), 10, (6, False)), (RESTING, ((3, 1), ONE, NIL), 1, (0, False)))
         for cam, spring, many, wanted in rows:
             self.assertEqual(square_near(cam, spring, many), wanted)
+        rows = ((ONE, 1, (1, True)), (ONE, 10, (10, True)), ((3, 1), 3, (1, True)), ((3, 1), 10, (3, False)))
+        for mass, many, wanted in rows:
+            self.assertEqual(square_near(FLAT, (mass, ONE, NIL), many), wanted)
         for many in (1, 10, 997, FINEST):
             self.assert_near(CUBE, PLAIN, many)
             self.assert_near(EDGE, (ONE, ONE, (-2, 3)), many)
@@ -255,6 +263,10 @@ class Turning(unittest.TestCase):
             self.assertEqual(turning_near(cam, spring, square, many), wanted)
             self.assertEqual(turning_near(many=many, square=square, spring=spring, cam=cam), wanted)
         self.assertEqual(turning_at(OVAL, COIL, (1, 4), SLANT), (-18, 25))
+
+    def test_products_of_waves(self):
+        for one, other in itertools.product(SPECIAL, repeat=2):
+            self.assertEqual(wave_product(one, other), multiplied(one, other))
 
     def test_0_at_all_turns(self):
         # Round cams and the axle; feet that bear nothing anywhere.
