@@ -84,6 +84,18 @@ def power(turn, number):
     return turn_times(step, abs(number))
 
 
+def join_powers(turn, other):
+    """Like join_turns, for two powers of one turn, with numbers from 0 on.
+
+    What is told is reduced as it stands: with n as its denominator C + i S is, but for a
+    unit, w * w / n for a whole complex number w with n = w * w', w' being w mirrored. No
+    prime divides w and w' both, so none divides a power of w and the same power of n.
+    """
+    (a, m), (b, _) = turn
+    (c, k), (d, _) = other
+    return ((a * c - b * d, m * k), (a * d + b * c, m * k))
+
+
 def turn_times(turn, times):
     """The turn with so many times its angle, for a number from 0 on.
 
@@ -92,8 +104,8 @@ def turn_times(turn, times):
     if times == 0:
         return EAST
     half = turn_times(turn, times // 2)
-    double = join_turns(half, half)
-    return join_turns(double, turn) if times & 1 else double
+    double = join_powers(half, half)
+    return join_powers(double, turn) if times & 1 else double
 
 
 def multiples_of(turn, most):
@@ -101,7 +113,7 @@ def multiples_of(turn, most):
     found = []
     reached = EAST
     for _ in range(most):
-        reached = join_turns(reached, turn)
+        reached = join_powers(reached, turn)
         found.append(reached)
     return found
 

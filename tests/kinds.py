@@ -8,6 +8,9 @@ from tests.values import BIG, EAST, HALF, Hostile, NIL, NOT_FRACTIONS, NOT_PLACE
 from tests.values import OVAL, SLANT, TWO, nested
 
 
+INDEXED = (errors.InvalidFrames, errors.InvalidHarmonics, errors.InvalidBox, errors.InvalidWeights)
+
+
 class Kind:
     """A right value, the pairs of a wrong one and what the error keeps, and the class of the error."""
 
@@ -15,7 +18,7 @@ class Kind:
         self.right = right
         self.wrong = wrong
         self.error = error
-        self.kept = "index" if error in (errors.InvalidFrames, errors.InvalidHarmonics) else "given"
+        self.kept = "index" if error in INDEXED else "given"
 
 
 def given(right, wrong, error):
@@ -87,15 +90,31 @@ HARMONICS = Kind((5, 7), NO_HARMONICS + [
     ((2, 3, 4, 5, 6, 6, 8), 5), ((2, 3, 4, 5, 6, 7, 7), 6), (tuple(range(2, 62)), 6), ((10 ** 6, 10 ** 6 + 1), 1),
 ], errors.InvalidHarmonics)
 
+NO_BOXES = no_lists(NO_VALUES + (0, BIG, [OVAL], {OVAL: 1}, OVAL, ((OVAL,),)))
+for found in NOT_WAVES:
+    NO_BOXES += lists_with(found, SWING, (OVAL, SWING) * 3, OVAL)
+BOX = Kind((SWING, OVAL), NO_BOXES + [((OVAL,) * 7, 6), ((OVAL,) * 60, 6)], errors.InvalidBox)
+
+# For a box of two waves.
+NO_WEIGHTS = [(value, None) for value in NO_VALUES + ((ONE,), (ONE,) * 3, [ONE, ONE], (), ONE + ONE, {ONE: 1, NIL: 1})
+              if not isinstance(value, tuple) or len(value) != 2]
+for found in NOT_FRACTIONS + ((-1, 1), less(TINY), (-BIG, 3)):
+    NO_WEIGHTS += [((found, ONE), 0), ((ONE, found), 1), ((found, found), 0), ((found,), None),
+                   ((ONE, NIL, found), None)]
+WEIGHTS = Kind((HALF, NIL), NO_WEIGHTS, errors.InvalidWeights)
+
 BY_NAME = {
     "fraction": FRACTION, "turn": TURN, "wave": WAVE, "place": PLACE, "cam": CAM, "frame": FRAME, "sign": SIGN,
     "many": MANY, "gap": GAP, "distance": DISTANCE, "harmonic": HARMONIC, "low": LOW, "high": HIGH, "index": INDEX,
     "knot": KNOT, "most": whole(1, 600, 600), "spring": SPRING, "square": SQUARE, "arms": ARMS, "frames": FRAMES,
-    "harmonics": HARMONICS, "width": FRACTION, "level": FRACTION,
+    "harmonics": HARMONICS, "width": FRACTION, "level": FRACTION, "spot": TURN, "box": BOX, "weights": WEIGHTS,
+    "value": Kind(OVAL, [], None),
 }
-OTHERS = {"turns": TURN, "waves": WAVE, "frames": FRAME, "pairs": CAM}
+OTHERS = {"turns": TURN, "waves": WAVE, "frames": FRAME, "pairs": CAM, "nevers": CAM, "alikes": WAVE, "sizes": CAM,
+          "sums": WAVE}
 OWN = {("turn_of", "fraction"): HALVES, ("power", "number"): whole(-60, 60, 3), ("regular", "number"): whole(2, 8, 5),
-       ("most_feet", "number"): whole(2, 60, 12), ("widest_frame", "number"): whole(2, 60, 12)}
+       ("most_feet", "number"): whole(2, 60, 12), ("widest_frame", "number"): whole(2, 60, 12),
+       ("weight_range", "number"): whole(0, 1, 0)}
 
 
 def kinds_of(file, name, parameters):
@@ -118,4 +137,5 @@ LET = {"sign": (-1, 0, 1), "many": (1, FINEST), "harmonic": (1, FINEST), "most":
        "index": (0, 1), "fraction": (NIL, (-BIG, 3)), "turn": (EAST,), "square": (NIL, TINY), "width": (NIL, (-BIG, 3)),
        "level": (NIL, (-BIG, 3)),
        "arms": ((TINY, (BIG, 1)),), "spring": ((TINY, TINY, (BIG, 1)),), "frames": ((CORNER,), (CORNER,) * 6),
-       "harmonics": ((2,), (2, 3, 4, 5, 6, 10 ** 6))}
+       "harmonics": ((2,), (2, 3, 4, 5, 6, 10 ** 6)), "spot": (EAST,), "weights": ((NIL, NIL), ((BIG, 1), TINY)),
+       "box": ((SWING, SWING), (SWING, OVAL))}

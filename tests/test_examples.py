@@ -75,15 +75,6 @@ LOTS = """
 [(1, 2, 4), (1, 3), (1, 2, 3, 4, 6), 6, 2, 4, 1, None]
 """
 
-PAIRS = """
->>> from framecams.pairs import goes_without_play, is_mate_cam, mate, pair_width, play_wave, playing_harmonics, width_near
->>> arms = (one, one)
->>> [playing_harmonics(oval, oval, arms, east), goes_without_play(oval, oval, arms, north), pair_width(oval, oval, arms, north), pair_width(oval, oval, arms, east), play_wave(oval, round_cam, (one, two), slant)]
-[(2,), True, (2, 1), None, ((3, 1), (((0, 1), (0, 1)), ((1, 4), (0, 1))))]
->>> [mate(oval, arms, east, two), is_mate_cam(oval, arms, east, two), is_mate_cam(oval, arms, east, one), width_near(oval, arms, 4), width_near(oval, arms, 3)]
-[((1, 1), (((0, 1), (0, 1)), ((-1, 4), (0, 1)))), True, False, 7, 6]
-"""
-
 SPEEDS = """
 >>> from framecams.speeds import bearing_wave, is_kept, leaving_turn, square_near
 >>> coil = (one, one, half)
@@ -98,14 +89,56 @@ raises NotPressed()
 [(-18, 25), ((-6, True), (6, True)), ((0, True), (0, True))]
 """
 
-ALL = TURNS + WAVES + SIGNS + CAMS + FEET + FRAMES + LOTS + PAIRS + SPEEDS
+NEVERS = """
+>>> from framecams.nevers import spare_near, turn_above, within_word
+>>> [within_word(oval, ((5, 4), ()), slant), within_word(oval, (two, ()), slant), within_word(oval, round_cam, slant), within_word(oval, oval, (nil, one)), within_word(oval, oval, ((-1, 1), nil))]
+['touches', 'free', 'out', 'out', 'touches']
+>>> [spare_near(oval, (two, ()), slant, 100), spare_near(oval, oval, (nil, one), 10), turn_above(oval, (two, ()), slant)]
+[(75, True), (-5, True), None]
+>>> from framecams.nevers import carry_word, carrying_row, handed_over, lift_of_two
+>>> quarter = (nil, one)
+>>> [carrying_row(oval, oval, quarter), handed_over(oval, oval, quarter), carry_word(oval, oval, quarter), lift_of_two(oval, oval, quarter, slant), carry_word(oval, (two, ()), slant), carry_word(oval, oval, ((-1, 1), nil)), carry_word(oval, ((3, 4), ()), slant)]
+[(-1, 1, -1, 1), 4, 'in turns', (107, 100), 'other', 'both', 'first']
+"""
+
+ALIKES = """
+>>> from framecams.alikes import are_alike, are_alike_moved, are_mirror_alike, carrying_turns, fold, has_axis, parting
+>>> both, skew = plus(oval, egg), (two, (blank, ((1, 4), nil), (nil, (1, 10))))
+>>> [are_alike(egg, turned(egg, slant)), carrying_turns(egg, egg), carrying_turns(oval, turned(oval, north)), carrying_turns(round_cam, round_cam), fold(egg), fold(both), fold(round_cam)]
+[True, (((1, 1), (0, 1)),), (((0, 1), (1, 1)), ((0, 1), (-1, 1))), None, 3, 1, 0]
+>>> [parting(oval, egg), parting(oval, times(oval, two)), parting(both, skew), parting(egg, turned(egg, south)), are_mirror_alike(both, skew), has_axis(skew), are_alike(round_cam, moved(round_cam, (half, nil))), are_alike_moved(round_cam, moved(round_cam, (half, nil)))]
+[('harmonic', 2), ('middle',), ('turn', 2, 3), None, False, True, False, True]
+"""
+
+PAIRS_SIZES_SUMS = """
+>>> from framecams.pairs import goes_without_play, is_mate_cam, mate, pair_width, play_wave, playing_harmonics, width_near
+>>> from framecams.sizes import area, balanced, deficit, is_balanced, middle, mixed_area, mixed_gap, moments, way_round
+>>> from framecams.sums import added, barring_wave, is_barring, needless_waves, product, weight_range, weights_for
+>>> arms = (one, one)
+>>> [playing_harmonics(oval, oval, arms, east), goes_without_play(oval, oval, arms, north), pair_width(oval, oval, arms, north), pair_width(oval, oval, arms, east), play_wave(oval, round_cam, (one, two), slant)]
+[(2,), True, (2, 1), None, ((3, 1), (((0, 1), (0, 1)), ((1, 4), (0, 1))))]
+>>> [mate(oval, arms, east, two), is_mate_cam(oval, arms, east, two), is_mate_cam(oval, arms, east, one), width_near(oval, arms, 4), width_near(oval, arms, 3)]
+[((1, 1), (((0, 1), (0, 1)), ((-1, 4), (0, 1)))), True, False, 7, 6]
+>>> crank, odd = (one, ((half, nil),)), (one, ((nil, nil), ((1, 8), nil), ((1, 16), nil)))
+>>> [way_round(oval), area(oval), area(egg), mixed_area(oval, round_cam), deficit(oval), deficit(crank), mixed_gap(oval, round_cam), mixed_gap(oval, oval)]
+[(2, 1), (29, 32), (24, 25), (1, 1), (3, 8), (0, 1), (3, 32), (0, 1)]
+>>> [moments(crank), middle(crank), moments(odd), middle(odd), is_balanced(egg), balanced(crank)]
+[((1, 2), (0, 1)), ((1, 2), (0, 1)), ((-73, 4096), (0, 1)), ((-73, 3936), (0, 1)), True, ((1, 1), ())]
+>>> flat, thin = ((two, ((nil, nil), ((1, 4), nil)))), (half, ((nil, nil), ((1, 4), nil)))
+>>> [added((round_cam, oval), (one, two)), weights_for((round_cam, oval), flat), weights_for((round_cam, oval), thin), is_barring((round_cam, oval), thin, (one, ((nil, nil), ((-4, 1), nil)))), product(oval, oval)]
+[((3, 1), (((0, 1), (0, 1)), ((1, 2), (0, 1)))), ((1, 1), (1, 1)), None, True, (17, 16)]
+>>> [weight_range((round_cam, oval, (two, ())), flat, 0), weight_range((round_cam, oval, (two, ())), flat, 1), needless_waves((round_cam, oval, (two, ())))]
+[((0, 1), (1, 1)), ((1, 1), (1, 1)), (0, 2)]
+"""
+
+ALL = TURNS + WAVES + SIGNS + CAMS + FEET + FRAMES + LOTS + SPEEDS + NEVERS + ALIKES + PAIRS_SIZES_SUMS
 
 
 class Examples(unittest.TestCase):
     def test_examples_of_the_document(self):
         rows = run_examples(ALL, {})
         self.assertEqual(len(rows), ALL.count(">>> "))
-        self.assertEqual(len([wanted for _, _, wanted in rows if wanted is not None]), 24)
+        self.assertEqual(len([wanted for _, _, wanted in rows if wanted is not None]), 33)
         for line, told, wanted in rows:
             with self.subTest(line=line):
                 self.assertEqual(told, wanted)

@@ -46,6 +46,23 @@ INTERFACE = {
         "presses_at_most": "cam, spring, square, level", "pressing_near": "cam, spring, square, many",
         "turning_at": "cam, spring, square, turn", "turning_near": "cam, spring, square, many",
     },
+    "nevers": {
+        "within_word": "cam, other, turn", "turn_above": "cam, other, turn", "spare_near": "cam, other, turn, many",
+        "carrying_row": "cam, other, turn", "handed_over": "cam, other, turn", "carry_word": "cam, other, turn",
+        "lift_of_two": "cam, other, turn, spot",
+    },
+    "alikes": {
+        "are_alike": "wave, other", "are_alike_moved": "wave, other", "are_mirror_alike": "wave, other",
+        "carrying_turns": "wave, other", "fold": "wave", "has_axis": "wave", "parting": "wave, other",
+    },
+    "sizes": {
+        "way_round": "cam", "area": "cam", "mixed_area": "cam, other", "moments": "cam", "deficit": "cam",
+        "mixed_gap": "cam, other", "middle": "cam", "is_balanced": "cam", "balanced": "cam",
+    },
+    "sums": {
+        "added": "box, weights", "product": "wave, other", "weights_for": "box, wave", "barring_wave": "box, wave",
+        "is_barring": "box, wave, value", "weight_range": "box, wave, number", "needless_waves": "box",
+    },
 }
 
 

@@ -4,9 +4,9 @@ import importlib
 import itertools
 import unittest
 
-from framecams import errors, feet, frames, signs, speeds, turns, waves
+from framecams import errors, feet, frames, signs, sizes, speeds, sums, turns, waves
 from tests.kinds import LET, OWN, kinds_of, right_ones
-from tests.shapes import EDGE, NOUGHT, SWING, TINY, TWICE, less
+from tests.shapes import EDGE, NOUGHT, POINT, SWING, TINY, TWICE, less
 from tests.test_frames import FACING, OPEN, SQUARE
 from tests.test_interface import INTERFACE
 from tests.values import BLANK, EAST, HALF, LEAN, NIL, NOT_FRACTIONS, NOT_TURNS, NO_VALUES, ONE, OVAL, ROUND_CAM, SLANT
@@ -73,7 +73,8 @@ class Refusals(Refused):
         for function, kinds in refusing():
             first = list(kinds.values())[0]
             for at in range(0, 40, 3):
-                named = {name: kind.wrong[at % len(kind.wrong)][0] for name, kind in kinds.items()}
+                named = {name: kind.wrong[at % len(kind.wrong)][0] if kind.wrong else kind.right
+                         for name, kind in kinds.items()}
                 self.assert_both_ways(function, named, first.error, first.wrong[at % len(first.wrong)][1], first.kept)
 
     def test_none_is_a_half_in_turn_of_alone(self):
@@ -132,10 +133,12 @@ class Last(Refused):
                 (speeds.pressing_near, {"cam": EDGE, "spring": gone, "square": ONE, "many": 3}, errors.NotSmooth),
                 (speeds.pressing_near, {"cam": OVAL, "spring": gone, "square": ONE, "many": 3}, errors.NotKept),
                 (speeds.presses_at_most, {"cam": EDGE, "spring": gone, "square": ONE, "level": ONE}, errors.NotSmooth),
-                (speeds.presses_at_most, {"cam": OVAL, "spring": gone, "square": ONE, "level": ONE}, errors.NotKept))
+                (speeds.presses_at_most, {"cam": OVAL, "spring": gone, "square": ONE, "level": ONE}, errors.NotKept),
+                (sizes.balanced, {"cam": POINT}, errors.IsPoint), (sizes.balanced, {"cam": NOUGHT}, errors.IsPoint),
+                (sums.weight_range, {"box": (SWING, OVAL), "wave": TWICE, "number": 1}, errors.NotAdded))
         for function, named, error in rows:
             self.assert_both_ways(function, named, error, None, None)
-            kinds = kinds_of("speeds", function.__name__, ", ".join(named))
+            kinds = kinds_of(function.__module__.split(".")[1], function.__name__, ", ".join(named))
             for name, kind in kinds.items():
                 for wrong, kept in kind.wrong[::4]:
                     self.assert_both_ways(function, {**named, name: wrong}, kind.error, kept, kind.kept)

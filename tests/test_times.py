@@ -3,11 +3,13 @@
 import time
 import unittest
 
-from framecams import cams, feet, frames, lots, pairs, signs, speeds
+from framecams import alikes, cams, feet, frames, lots, nevers, pairs, signs, sizes, speeds, sums
+from framecams.turns import turn_of
+from framecams.waves import mirrored, plus, times, turned
 from tests.shapes import EIGHT, FAST, FINEST, FINE_EDGE, LONG, MANY_CAM, MIXED, SHORTER, SQUARED, TINY
 from tests.shapes import any_waves, less, made, multiplied, opposite, raised
 from tests.test_frames import CORNER
-from tests.values import BIG, FULL, HALF, ONE, SLANT, TWO
+from tests.values import BIG, BIG_HALF, FULL, HALF, ONE, SLANT, TURNS, TWO
 
 SECONDS = 1.0
 MILLION = 10 ** 6
@@ -100,6 +102,54 @@ class InGoodTime(unittest.TestCase):
                         self.assert_soon(speeds.pressing_near, cam, spring, square, FINEST)
                         self.assert_soon(speeds.presses_at_most, cam, spring, square, (FINEST + 1, FINEST))
                 self.assert_soon(speeds.square_near, cam, spring, FINEST)
+
+    def test_nevers(self):
+        for at, cam in enumerate(CAMS):
+            for other in CAMS[at:] + [raised(cam, TINY), raised(cam, less(FINER))]:
+                for turn in (SLANT, turn_of((1, 10 ** 30))):
+                    for function in (nevers.within_word, nevers.turn_above, nevers.carrying_row, nevers.handed_over,
+                                     nevers.carry_word):
+                        self.assert_soon(function, cam, other, turn)
+                    self.assert_soon(nevers.spare_near, cam, other, turn, FINEST)
+                    self.assert_soon(nevers.lift_of_two, cam, other, turn, SLANT)
+
+    def test_alikes(self):
+        big = turn_of(BIG_HALF)
+        gapped = [made(1, *[(0, 0)] * (k - 1), ("3/7", f"{BIG}/{BIG + 2}")) for k in range(1, 9)]
+        for wave in WAVES[::2] + [LONG, FIGURES] + gapped:
+            for other in (wave, turned(wave, SLANT), turned(wave, big), mirrored(wave), WAVES[0]):
+                for function in (alikes.are_alike, alikes.are_alike_moved, alikes.are_mirror_alike,
+                                 alikes.carrying_turns, alikes.parting):
+                    self.assert_soon(function, wave, other)
+            for function in (alikes.fold, alikes.has_axis):
+                self.assert_soon(function, wave)
+        for wave in gapped:
+            self.assertIn(big, self.assert_soon(alikes.carrying_turns, wave, turned(wave, big)))
+
+    def test_sizes(self):
+        for cam in CAMS:
+            for function in (sizes.way_round, sizes.area, sizes.moments, sizes.deficit, sizes.middle,
+                             sizes.is_balanced, sizes.balanced):
+                self.assert_soon(function, cam)
+            for other in CAMS:
+                self.assert_soon(sizes.mixed_area, cam, other)
+                self.assert_soon(sizes.mixed_gap, cam, other)
+
+    def test_sums(self):
+        figured = [turned(FIGURES, turn) for turn in TURNS[4:9]] + [FIGURES]
+        boxes = [WAVES[:6], WAVES[3:9], WAVES[-6:], [LONG, FIGURES, EIGHT, FULL, MIXED, SQUARED], figured,
+                 [FIGURES, times(FIGURES, (-1, 1)), LONG, times(LONG, (-1, BIG)), EIGHT, plus(EIGHT, LONG)]]
+        for box in [tuple(box) for box in boxes]:
+            weights = tuple((k, BIG) for k in range(1, 7))
+            inner = self.assert_soon(sums.added, box, weights)
+            for wave in (inner, plus(inner, times(box[0], (-2, 1))), LONG, FIGURES, FAST):
+                found = self.assert_soon(sums.weights_for, box, wave)
+                barring = self.assert_soon(sums.barring_wave, box, wave)
+                self.assert_soon(sums.is_barring, box, wave, barring)
+                if found is not None:
+                    for number in range(6):
+                        self.assert_soon(sums.weight_range, box, wave, number)
+            self.assert_soon(sums.needless_waves, box)
 
 
 if __name__ == "__main__":
