@@ -22,22 +22,26 @@ def is_wide_enough(cam, low, high):
     """Whether a foot from low to high is wide enough."""
     check_cam(cam)
     check_bounds(low, high)
-    return all([is_never_below(wave) for wave in margins(cam, low, high)])
+    return stays_between(growth(cam), low, high)
 
 
 def missed_turn(cam, low, high):
     """Any turn at which the growth is not from low up to high; None."""
     check_cam(cam)
     check_bounds(low, high)
-    above, below = margins(cam, low, high)
+    above, below = margins(growth(cam), low, high)
     turn = turn_with(above, -1)
     return turn if turn is not None else turn_with(below, -1)
 
 
-def margins(cam, low, high):
-    """How far the growth is above low, and below high: two waves."""
-    touch = growth(cam)
-    return [wave_less(touch, (low, ())), wave_less((high, ()), touch)]
+def margins(wave, low, high):
+    """How far the wave is above low, and below high: two waves."""
+    return [wave_less(wave, (low, ())), wave_less((high, ()), wave)]
+
+
+def stays_between(wave, low, high):
+    """Whether the wave is from low up to high at all turns."""
+    return all([is_never_below(margin) for margin in margins(wave, low, high)])
 
 
 def touch_near(cam, many):

@@ -93,8 +93,13 @@ def knot_number(frame, knot):
 
 def check_knot(frame, knot):
     """Raise InvalidKnot for what is no knot of the frame."""
-    if not isinstance(knot, tuple) or not all([is_whole(mark) for mark in knot]) or knot not in knots_of(frame):
+    if not is_knot(frame, knot):
         raise InvalidKnot(knot)
+
+
+def is_knot(frame, value):
+    """Whether the value, whatever it is, is a knot of what surely is a frame."""
+    return isinstance(value, tuple) and all([is_whole(mark) for mark in value]) and value in knots_of(frame)
 
 
 def spread(n, marks):

@@ -31,6 +31,13 @@ def check_harmonics(harmonics):
         least = harmonic + 1
 
 
+def are_frames(value):
+    """Whether the value, whatever it is, is a tuple of one to six frames."""
+    if not isinstance(value, tuple) or not 1 <= len(value) <= MOST_FRAMES:
+        return False
+    return all([is_frame(frame) for frame in value])
+
+
 def shares(frames, harmonic):
     """Whether all frames let the harmonic."""
     check_frames(frames)

@@ -2,7 +2,7 @@
 
 from framecams.cams import check_cam
 from framecams.leasts import least_near_of
-from framecams.ratios import check_many
+from framecams.ratios import check_many, is_below
 from framecams.stretches import is_always_above, is_never_below, signs_of, turn_with
 from framecams.turns import check_turn, join_turns
 from framecams.waves import turned, wave_less, worth
@@ -83,4 +83,4 @@ def lift_of_two(cam, other, turn, spot):
     check_two(cam, other, turn)
     check_turn(spot)
     one, two = worth(cam, spot), worth(other, join_turns(spot, turn))
-    return one if one[0] * two[1] >= two[0] * one[1] else two
+    return two if is_below(one, two) else one

@@ -8,9 +8,14 @@ from framecams.turns import back, check_turn
 from framecams.waves import bend, harmonics_of, plus, times, turned
 
 
+def are_arms(value):
+    """Whether the value, whatever it is, is a pair of fractions above 0."""
+    return isinstance(value, tuple) and len(value) == 2 and all([is_fraction_above(arm) for arm in value])
+
+
 def check_arms(arms):
-    """Raise InvalidArms for what is no pair of fractions above 0."""
-    if not isinstance(arms, tuple) or len(arms) != 2 or not all([is_fraction_above(arm) for arm in arms]):
+    """Raise InvalidArms for what are no arms."""
+    if not are_arms(arms):
         raise InvalidArms(arms)
 
 

@@ -45,6 +45,11 @@ def is_fraction_above(value):
     return is_fraction(value) and value[0] > 0
 
 
+def is_fraction_from_0(value):
+    """Whether the value is a fraction from 0 on, whatever it is."""
+    return is_fraction(value) and value[0] >= 0
+
+
 def check_number(number, least, most):
     """Raise InvalidNumber for what is no whole number from the least one up to the most one."""
     if not is_whole_within(number, least, most):
@@ -60,8 +65,18 @@ def check_bounds(low, high):
     """Raise InvalidFraction for what is no fraction, HighBelowLow for a high one below the low one."""
     check_fraction(low)
     check_fraction(high)
-    if high[0] * low[1] < low[0] * high[1]:
+    if is_below(high, low):
         raise HighBelowLow(high)
+
+
+def is_below(one, other):
+    """Whether the first fraction is below the second one."""
+    return one[0] * other[1] < other[0] * one[1]
+
+
+def are_bounds(low, high):
+    """Whether both values, whatever they are, are fractions, and the high one is not below the low one."""
+    return is_fraction(low) and is_fraction(high) and not is_below(high, low)
 
 
 def ratio(n, m):

@@ -4,25 +4,31 @@ from framecams.cams import check_cam, is_smooth
 from framecams.errors import InvalidSpring, InvalidSquare, NotKept, NotPressed, NotSmooth
 from framecams.feet import both_near
 from framecams.leasts import greatest_share_near, last_held, rest_of
-from framecams.ratios import check_fraction, check_many, is_fraction, is_fraction_above, ratio_product
+from framecams.ratios import check_fraction, check_many, is_fraction, is_fraction_above, is_fraction_from_0
+from framecams.ratios import ratio_product
 from framecams.stretches import count_zeros, is_never_below, turn_with
 from framecams.turns import check_turn
 from framecams.waves import bend, growth, plus, times, wave_less, worth
 from framecams.wholes import wave_product
 
 
+def is_spring(value):
+    """Whether the value, whatever it is, is a triple (MASS, STIFF, PRESS)."""
+    if not isinstance(value, tuple) or len(value) != 3:
+        return False
+    mass, stiff, press = value
+    return is_fraction_above(mass) and is_fraction_above(stiff) and is_fraction(press)
+
+
 def check_spring(spring):
-    """Raise InvalidSpring for what is no triple (MASS, STIFF, PRESS)."""
-    if not isinstance(spring, tuple) or len(spring) != 3:
-        raise InvalidSpring(spring)
-    mass, stiff, press = spring
-    if not is_fraction_above(mass) or not is_fraction_above(stiff) or not is_fraction(press):
+    """Raise InvalidSpring for what is no spring."""
+    if not is_spring(spring):
         raise InvalidSpring(spring)
 
 
 def check_square(square):
     """Raise InvalidSquare for what is no fraction from 0 on."""
-    if not is_fraction(square) or square[0] < 0:
+    if not is_fraction_from_0(square):
         raise InvalidSquare(square)
 
 

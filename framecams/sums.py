@@ -4,7 +4,7 @@ from itertools import combinations
 
 from framecams.cones import corner_at, settled
 from framecams.errors import InvalidBox, InvalidWeights, NotAdded
-from framecams.ratios import check_number, is_fraction, ratio_product, ratio_sum
+from framecams.ratios import check_number, is_below, is_fraction_from_0, ratio_product, ratio_sum
 from framecams.stretches import NOUGHT_WAVE
 from framecams.waves import check_wave, is_wave, pair_product, wave_sum, wave_times
 
@@ -25,8 +25,22 @@ def check_weights(box, weights):
     if not isinstance(weights, tuple) or len(weights) != len(box):
         raise InvalidWeights(None)
     for index, weight in enumerate(weights):
-        if not is_fraction(weight) or weight[0] < 0:
+        if not is_fraction_from_0(weight):
             raise InvalidWeights(index)
+
+
+def is_box(value):
+    """Whether the value, whatever it is, is a box."""
+    if not isinstance(value, tuple) or not 1 <= len(value) <= MOST_WAVES:
+        return False
+    return all([is_wave(wave) for wave in value])
+
+
+def are_weights(box, value):
+    """Whether the value, whatever it is, are weights of what surely is a box."""
+    if not isinstance(value, tuple) or len(value) != len(box):
+        return False
+    return all([is_fraction_from_0(weight) for weight in value])
 
 
 def added(box, weights):
@@ -99,9 +113,9 @@ def is_endless(box, number):
 def least_of(fractions):
     """The least of the fractions."""
     least = fractions[0]
-    for n, m in fractions:
-        if n * least[1] < least[0] * m:
-            least = (n, m)
+    for fraction in fractions:
+        if is_below(fraction, least):
+            least = fraction
     return least
 
 

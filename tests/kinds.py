@@ -114,7 +114,8 @@ OTHERS = {"turns": TURN, "waves": WAVE, "frames": FRAME, "pairs": CAM, "nevers":
           "sums": WAVE}
 OWN = {("turn_of", "fraction"): HALVES, ("power", "number"): whole(-60, 60, 3), ("regular", "number"): whole(2, 8, 5),
        ("most_feet", "number"): whole(2, 60, 12), ("widest_frame", "number"): whole(2, 60, 12),
-       ("weight_range", "number"): whole(0, 1, 0)}
+       ("weight_range", "number"): whole(0, 1, 0), ("certify_frames", "other"): FRAME, ("certify_play", "other"): CAM,
+       ("certify_within", "other"): CAM, ("certify_alike", "other"): WAVE}
 
 
 def kinds_of(file, name, parameters):

@@ -1,4 +1,4 @@
-"""Every example of the document for the modules that there are, as it is written there."""
+"""Every example of the document, as it is written there."""
 
 import unittest
 
@@ -131,14 +131,39 @@ PAIRS_SIZES_SUMS = """
 [((0, 1), (1, 1)), ((1, 1), (1, 1)), (0, 2)]
 """
 
+CONSOLES = """
+>>> from framecams.consoles import Console
+>>> from framecams.workshops import Workshop
+>>> shop = Workshop()
+>>> console = Console(shop)
+>>> [console.say("put ei: 1/1; 0/1 0/1; 1/4 0/1"), shop.named("ei") == oval, console.say("cam ei"), console.say("lift ei: 1/1"), console.say("touch ei: 1/2"), console.say("lift ei: west"), console.say("size ei")]
+['done', True, '1/1; 0/1 0/1; 1/4 0/1', '3/4', '-12/25', '5/4', '2/1 29/32']
+>>> [console.say("frame ei: 3 0 1 2 1/1"), console.say("frame ei: 4 0 1 2 3 1/1"), shop.wish(("turns in", "ei", (3, (0, 1, 2), one)))]
+['turns', 'stuck', None]
+>>> console.say("put ei: 1/1; 0/1 0/1; 0/1 0/1; 1/10 0/1")
+raises Broken(index=0)
+>>> [len(shop), console.say("undo"), shop.wishes, console.say("drop ei"), console.say("names")]
+[2, 'done', (), 'done', 'none']
+"""
+
+CHECKER = """
+>>> from framecams.checker import accepts
+>>> from framecams.certificates import certify_alike, certify_cam, certify_frame, certify_frames, certify_shared
+>>> [accepts(("turns in", egg, square), ()), accepts(("turns in", oval, square), ()), accepts(("barred", oval, square), ("harmonic", 2, (1, 3))), accepts(("barred", oval, square), ("harmonic", 2, (0, 1))), accepts(("no cam", wide), east), accepts(("no cam", wide), north)]
+[True, False, True, False, True, False]
+>>> [certify_cam(oval)[1], certify_frame(egg, triangle)[1], certify_frames(square, triangle)[1], certify_shared((square, triangle)), certify_alike(oval, egg)[0][0]]
+[(), ('harmonic', 3, (0, 1, 2)), 2, (('least shared', ((4, (0, 1, 2, 3), (1, 1)), (3, (0, 1, 2), (1, 1))), 5), ()), 'unlike']
+"""
+
 ALL = TURNS + WAVES + SIGNS + CAMS + FEET + FRAMES + LOTS + SPEEDS + NEVERS + ALIKES + PAIRS_SIZES_SUMS
+ALL += CONSOLES + CHECKER
 
 
 class Examples(unittest.TestCase):
     def test_examples_of_the_document(self):
         rows = run_examples(ALL, {})
         self.assertEqual(len(rows), ALL.count(">>> "))
-        self.assertEqual(len([wanted for _, _, wanted in rows if wanted is not None]), 33)
+        self.assertEqual(len([wanted for _, _, wanted in rows if wanted is not None]), 39)
         for line, told, wanted in rows:
             with self.subTest(line=line):
                 self.assertEqual(told, wanted)

@@ -63,6 +63,22 @@ INTERFACE = {
         "added": "box, weights", "product": "wave, other", "weights_for": "box, wave", "barring_wave": "box, wave",
         "is_barring": "box, wave, value", "weight_range": "box, wave, number", "needless_waves": "box",
     },
+    "checker": {"accepts": "claim, paper"},
+    "certificates": {
+        "certify_cam": "wave", "certify_foot": "cam, low, high", "certify_frame": "wave, frame",
+        "certify_frames": "frame, other", "certify_shared": "frames", "certify_play": "cam, other, arms, turn",
+        "certify_kept": "cam, spring, square", "certify_within": "cam, other, turn", "certify_alike": "wave, other",
+        "certify_area": "cam", "certify_box": "box, wave",
+    },
+}
+# What stands in the class itself: methods with their parameters, None for a property.
+CLASSES = {
+    ("workshops", "Workshop"): {
+        "__init__": "self", "put": "self, name, cam", "drop": "self, name", "wish": "self, wish", "lift": "self, index",
+        "named": "self, name", "undo": "self", "trial": "self", "tried": "self, action", "__len__": "self",
+        "__contains__": "self, name", "names": None, "wishes": None,
+    },
+    ("consoles", "Console"): {"__init__": "self, shop", "say": "self, line"},
 }
 
 
@@ -76,6 +92,24 @@ class Interface(unittest.TestCase):
                     self.assertTrue(inspect.isfunction(function))
                     self.assertEqual((function.__module__, function.__name__), (module.__name__, name))
                     self.assertEqual(str(inspect.signature(function)), f"({parameters})")
+
+    def test_classes(self):
+        for (file, name), methods in CLASSES.items():
+            module = importlib.import_module(f"framecams.{file}")
+            found = getattr(module, name)
+            self.assertEqual((found.__module__, found.__name__, found.__bases__), (module.__name__, name, (object,)))
+            for method, parameters in methods.items():
+                with self.subTest(name=name, method=method):
+                    told = vars(found)[method]
+                    if parameters is None:
+                        self.assertIsInstance(told, property)
+                        self.assertIsNone(told.fset)
+                    else:
+                        self.assertEqual(str(inspect.signature(told)), f"({parameters})")
+
+    def test_all_modules_of_the_interface(self):
+        named = {file for file, _ in CLASSES} | set(INTERFACE) | {"errors"}
+        self.assertEqual(len(named), 18)
 
 
 if __name__ == "__main__":

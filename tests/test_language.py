@@ -76,7 +76,7 @@ def problems_of_node(node):
     if isinstance(node, ast.Name) and node.id in vars(builtins) and node.id not in BUILTINS:
         yield f"{line}: a builtin that is not let"
     for name in bound_names(node):
-        if name in vars(builtins) or name in BARRED or re.match("__(?!init__|len__|eq__)|_wall|_pe_", name):
+        if name in vars(builtins) or name in BARRED or re.match("__(?!(init|len|enter|exit|bool|contains)__)|_wall|_pe_", name):
             yield f"{line}: the name {name} is not let"
 
 

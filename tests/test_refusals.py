@@ -4,7 +4,7 @@ import importlib
 import itertools
 import unittest
 
-from framecams import errors, feet, frames, signs, sizes, speeds, sums, turns, waves
+from framecams import certificates, errors, feet, frames, signs, sizes, speeds, sums, turns, waves
 from tests.kinds import LET, OWN, kinds_of, right_ones
 from tests.shapes import EDGE, NOUGHT, POINT, SWING, TINY, TWICE, less
 from tests.test_frames import FACING, OPEN, SQUARE
@@ -12,7 +12,7 @@ from tests.test_interface import INTERFACE
 from tests.values import BLANK, EAST, HALF, LEAN, NIL, NOT_FRACTIONS, NOT_TURNS, NO_VALUES, ONE, OVAL, ROUND_CAM, SLANT
 
 # Those that tell of any value whatever; what in_order refuses is tested by itself.
-FREE = ("is_turn", "is_wave", "is_cam", "is_smooth", "is_frame", "in_order")
+FREE = ("is_turn", "is_wave", "is_cam", "is_smooth", "is_frame", "in_order", "accepts")
 
 
 def refusing():
@@ -94,7 +94,7 @@ class Bounds(Refused):
             self.assert_both_ways(frames.regular, {"number": number, "distance": NIL}, errors.InvalidNumber, number)
 
     def test_high_below_low(self):
-        for function in (feet.is_wide_enough, feet.missed_turn):
+        for function in (feet.is_wide_enough, feet.missed_turn, certificates.certify_foot):
             for low, high in ((ONE, HALF), (TINY, NIL), (NIL, less(TINY)), ((-1, 2), (-2, 3)), ((2, 3), (1, 2)),
                               ((10 ** 399, 1), (10 ** 399 - 1, 1))):
                 self.assert_both_ways(function, {"cam": OVAL, "low": low, "high": high}, errors.HighBelowLow, high)
@@ -103,11 +103,18 @@ class Bounds(Refused):
 
     def test_high_below_low_comes_behind_all_others(self):
         wrong = (ONE,)
-        for function in (feet.is_wide_enough, feet.missed_turn):
+        for function in (feet.is_wide_enough, feet.missed_turn, certificates.certify_foot):
             self.assert_both_ways(function, {"cam": wrong, "low": ONE, "high": NIL}, errors.InvalidCam, wrong)
             for value in NOT_FRACTIONS[::5]:
                 self.assert_both_ways(function, {"cam": OVAL, "low": value, "high": NIL}, errors.InvalidFraction, value)
                 self.assert_both_ways(function, {"cam": OVAL, "low": ONE, "high": value}, errors.InvalidFraction, value)
+
+    def test_any_value_beside_what_is_wrong(self):
+        for value in NO_VALUES[::3]:
+            wrong = [ONE]
+            named = {"box": (SWING, OVAL), "wave": wrong, "value": value}
+            self.assert_both_ways(sums.is_barring, named, errors.InvalidWave, wrong)
+            self.assert_both_ways(sums.is_barring, {**named, "box": (SWING, value)}, errors.InvalidBox, 1, "index")
 
     def test_no_index_of_a_zero(self):
         for wave, many in ((NOUGHT, 0), (ROUND_CAM, 0), (OVAL, 0), (SWING, 2), (TWICE, 4)):

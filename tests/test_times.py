@@ -3,9 +3,12 @@
 import time
 import unittest
 
-from framecams import alikes, cams, feet, frames, lots, nevers, pairs, signs, sizes, speeds, sums
+from framecams import alikes, cams, certificates, checker, feet, frames, lots, nevers, pairs, signs, sizes, speeds
+from framecams import sums
+from framecams.consoles import Console
 from framecams.turns import turn_of
 from framecams.waves import mirrored, plus, times, turned
+from framecams.workshops import Workshop
 from tests.shapes import EIGHT, FAST, FINEST, FINE_EDGE, LONG, MANY_CAM, MIXED, SHORTER, SQUARED, TINY
 from tests.shapes import any_waves, less, made, multiplied, opposite, raised
 from tests.test_frames import CORNER
@@ -150,6 +153,42 @@ class InGoodTime(unittest.TestCase):
                     for number in range(6):
                         self.assert_soon(sums.weight_range, box, wave, number)
             self.assert_soon(sums.needless_waves, box)
+
+    def test_certificates(self):
+        spring, arms = ((1, 3), (10 ** 6, 7), (FINEST, 11)), ((BIG, 3), (1, BIG))
+        rows = [(certificates.certify_shared, (tuple((n, (0, 1, 2), ONE) for n in (59, 58, 57, 55, 53, 49)),))]
+        rows += [(certificates.certify_cam, (wave,)) for wave in WAVES + CAMS]
+        rows += [(certificates.certify_alike, (wave, turned(wave, SLANT))) for wave in WAVES + CAMS]
+        rows += [(certificates.certify_frame, (wave, frame)) for wave in WAVES for frame in FRAMES]
+        rows += [(certificates.certify_frames, (frame, CORNER)) for frame in FRAMES]
+        rows += [(certificates.certify_box, (tuple(WAVES[at:at + 6]), WAVES[at + 3 * (at % 4)])) for at in range(0, 12)]
+        for at, cam in enumerate(CAMS):
+            rows += [(certificates.certify_foot, (cam, (-1, 10 ** 6), (FINEST + 1, FINEST))),
+                     (certificates.certify_play, (cam, CAMS[at - 1], arms, SLANT)), (certificates.certify_area, (cam,)),
+                     (certificates.certify_kept, (cam, spring, (FINEST + 1, FINEST))),
+                     (certificates.certify_within, (cam, CAMS[at - 1], SLANT)),
+                     (certificates.certify_within, (cam, raised(cam, less(FINER)), TURNS[0]))]
+        for function, told in rows:
+            claim, paper = self.assert_soon(function, *told)
+            self.assertIs(self.assert_soon(checker.accepts, claim, paper), True)
+
+    def test_workshops(self):
+        shop = Workshop()
+        console = Console(shop)
+        for name, cam in zip("abcde", CAMS):
+            self.assert_soon(shop.put, name, cam)
+            for wish in (("alike", name, name), ("under", name, name), ("breadth", name, (-BIG, 1), (BIG, 1)),
+                         ("foot", name, (-BIG, 1), (BIG, 1)), ("turns in", name, (60, (0, 59), HALF))):
+                self.assert_soon(shop.wish, wish)
+        for _ in range(3):
+            for name, cam in zip("abcde", CAMS[:4]):
+                self.assert_soon(shop.put, name, cam)
+                for line in (f"cam {name}", f"size {name}", f"lift {name}: 1/1000", f"touch {name}: west"):
+                    self.assert_soon(console.say, line)
+        for _ in range(400):
+            shop.put("z", CAMS[0])
+        while len(shop) > 0:
+            self.assert_soon(shop.undo)
 
 
 if __name__ == "__main__":
