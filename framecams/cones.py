@@ -25,14 +25,6 @@ class Table:
         self.rows = []
         self.solved = []
 
-    def copied(self):
-        """A table with the same rows."""
-        table = Table(self.many)
-        table.size = self.size
-        table.rows = list(self.rows)
-        table.solved = list(self.solved)
-        return table
-
     def cleared(self, first):
         """The row, multiplied, less the share of all others: its products are 0 wherever one of them is solved."""
         row = [self.size * number for number in first]
@@ -145,15 +137,53 @@ def improved(table):
         table.change(at, columns[0])
 
 
-def corner_at(table, columns):
-    """The weights of the table solved for just these waves of the box; None if it can't be, or with one below 0."""
-    corner = table.copied()
-    for column in columns:
-        if column not in corner.solved:
-            free = [at for at, row in enumerate(corner.rows) if row[column] != 0 and corner.solved[at] not in columns]
-            if len(free) == 0:
-                return None
-            corner.change(free[0], column)
-    if not all([row[corner.many] >= 0 for row in corner.rows]):
-        return None
-    return corner.weights()
+def least_weight(table, number):
+    """The least weight of the wave with this index, over all weights that add up to the same wave as the table's.
+
+    The table tells weights from 0 on, here and in what follows. As in `improved` the first
+    waves that may come and go do: so no table comes again.
+    """
+    while number in table.solved:
+        row = table.rows[table.solved.index(number)]
+        columns = [column for column in range(table.many) if column != number and row[column] > 0]
+        if len(columns) == 0:
+            break
+        table.change(tightest_row(table, columns[0]), columns[0])
+    return table.weights()[number]
+
+
+def greatest_weight(table, number):
+    """The greatest weight of the wave with this index, over all these weights; None if there is no end."""
+    columns = growing_columns(table, number)
+    while len(columns) > 0:
+        at = tightest_row(table, columns[0])
+        if at is None:
+            return None
+        table.change(at, columns[0])
+        columns = growing_columns(table, number)
+    return table.weights()[number]
+
+
+def growing_columns(table, number):
+    """The indexes of the waves of which more makes the weight of this one grow, in a list."""
+    if number not in table.solved:
+        return [number]
+    row = table.rows[table.solved.index(number)]
+    return [column for column in range(table.many) if row[column] < 0]
+
+
+def tightest_row(table, column):
+    """The index of the row that tells first that there can't be more of the wave; None if no row does."""
+    found = None
+    for at, row in enumerate(table.rows):
+        if row[column] > 0 and (found is None or is_tighter(table, column, at, found)):
+            found = at
+    return found
+
+
+def is_tighter(table, column, at, other):
+    """Whether the first row tells so ahead of the other one, or with it, for a wave with a lower index."""
+    one, two = table.rows[at], table.rows[other]
+    many = table.many
+    less = one[many] * two[column] - two[many] * one[column]
+    return less < 0 or less == 0 and table.solved[at] < table.solved[other]

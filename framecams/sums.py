@@ -1,10 +1,8 @@
 """Sums of waves with weights: what a box adds up to, and what bars a wave from it."""
 
-from itertools import combinations
-
-from framecams.cones import corner_at, settled
+from framecams.cones import greatest_weight, least_weight, settled
 from framecams.errors import InvalidBox, InvalidWeights, NotAdded
-from framecams.ratios import check_number, is_below, is_fraction_from_0, ratio_product, ratio_sum
+from framecams.ratios import check_number, is_fraction_from_0, ratio_product, ratio_sum
 from framecams.stretches import NOUGHT_WAVE
 from framecams.waves import check_wave, is_wave, pair_product, wave_sum, wave_times
 
@@ -95,34 +93,7 @@ def weight_range(box, wave, number):
     table = settled(box, wave)[0]
     if table is None:
         raise NotAdded()
-    found = []
-    # Where weights have a least or a greatest one, some weights at a corner tell it.
-    for columns in combinations(range(len(box)), len(table.rows)):
-        weights = corner_at(table, list(columns))
-        if weights is not None:
-            found.append(weights[number])
-    return (least_of(found), None if is_endless(box, number) else greatest_of(found))
-
-
-def is_endless(box, number):
-    """Whether any more of the wave with this index can be made good by more of the others."""
-    others = box[:number] + box[number + 1:]
-    return settled(others, wave_times(box[number], (-1, 1)))[0] is not None
-
-
-def least_of(fractions):
-    """The least of the fractions."""
-    least = fractions[0]
-    for fraction in fractions:
-        if is_below(fraction, least):
-            least = fraction
-    return least
-
-
-def greatest_of(fractions):
-    """The greatest of the fractions."""
-    n, m = least_of([(-n, m) for n, m in fractions])
-    return (-n, m)
+    return (least_weight(table, number), greatest_weight(table, number))
 
 
 def needless_waves(box):

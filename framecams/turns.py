@@ -87,9 +87,9 @@ def power(turn, number):
 def join_powers(turn, other):
     """Like join_turns, for two powers of one turn, with numbers from 0 on.
 
-    What is told is reduced as it stands: with n as its denominator C + i S is, but for a
-    unit, w * w / n for a whole complex number w with n = w * w', w' being w mirrored. No
-    prime divides w and w' both, so none divides a power of w and the same power of n.
+    What is told is reduced as it stands: a prime that divides both parts of a power of a whole
+    complex number divides both parts of that number, unless it is 2, and denominators of
+    turns are odd.
     """
     (a, m), (b, _) = turn
     (c, k), (d, _) = other

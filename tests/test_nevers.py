@@ -166,7 +166,7 @@ class Spare(unittest.TestCase):
             self.assert_spare((cam, ROUND_CAM, SLANT), many, (-isqrt(2 * many * many) - 1, False))
 
     def test_what_can_be_put_round(self):
-        for told, wave in hard_pairs():
+        for told, wave in list(hard_pairs())[::2]:
             cam, other, turn = told
             for many in (12, FINEST):
                 n, is_just = spare_near(*told, many)

@@ -3,6 +3,7 @@
 import itertools
 import unittest
 from fractions import Fraction
+from random import Random
 
 from framecams.cams import is_cam
 from framecams.errors import InvalidNumber, NotAdded
@@ -270,6 +271,18 @@ class Ranges(Weighed):
                 (UNITS, made(1, (2, 3)), 2, ((3, 1),) * 2))
         for box, wave, number, wanted in rows:
             self.assertEqual(self.assert_range(box, wave, number), wanted)
+
+    def test_many_ways_to_add(self):
+        # Few numbers for many waves, and weights of which some are 0: corners at which many waves meet.
+        source, kinds = Random(65), []
+        for _ in range(70):
+            many = source.randint(4, 6)
+            box = tuple(made(source.randint(0, 2), (source.randint(-2, 2), source.randint(-2, 2))) for _ in range(many))
+            wave = total_of(box, [(source.choice((0, 0, 1, 1, 2)), 1) for _ in range(many)])
+            for number in range(many):
+                least, greatest = self.assert_range(box, wave, number)
+                kinds.append("endless" if greatest is None else "one" if least == greatest else "more")
+        self.assertGreater(min(kinds.count(kind) for kind in ("endless", "one", "more")), 15)
 
     def test_a_middle_range(self):
         # The weights of four corners of a square: two opposite ones go together.
